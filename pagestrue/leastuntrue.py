@@ -17,7 +17,7 @@ def left_out(page):
     forms = sound_forms(page)
     found = []
     for many in range(len(forms) + 1):
-        for lot in combinations(list(range(len(forms))), many):
+        for lot in combinations(range(len(forms)), many):
             if not has_within(found, lot) and is_true_without(forms, lot):
                 found.append(list(lot))
     return sorted(found)

@@ -54,7 +54,7 @@ class TopLook:
         more = dict(owners)
         for name in names_set(self.forms[place][:self.outcome(place, owners)[0]]):
             more[name] = place
-        return {name: more[name] for name in sorted(more)}
+        return more
 
 
 def pairs_of(owners):

@@ -91,9 +91,9 @@ def sound_cells(seed, cells=3, depth=0, many=2, **kinds):
     return told
 
 
-def any_cells(seed, cells=3, depth=1, many=2, **kinds):
+def any_cells(seed, cells=3, depth=1, many=2, calm=0.5, **kinds):
     """The cells of a page, sound or not."""
-    made = CellMaker(maker(seed), is_sound=False, **kinds)
+    made = CellMaker(maker(seed), is_sound=False, calm=calm, **kinds)
     return [made.block(set(), many, depth, True) for _ in range(cells)]
 
 

@@ -20,6 +20,7 @@ from pagestrue.tops import first_miss, needs, top, top_behind
 from pagestrue.twobehind import safe_names, untrue_pair, untrue_row
 from pagestrue.webparts import decided, depth_of, needs_of, steps_in, tests_in, thinned_web, tree_of
 from pagestrue.webs import is_web, joined_webs, put_row, same_part, web_fault
+from tests.making import Strange
 
 CELL = [("set", "x", "f", ["a", "b"]), ("if", "t", ["x"], [("copy", "y", "b")], [("copy", "y", "x")]),
         ("show", "y")]
@@ -33,6 +34,7 @@ WEB = [("made", "f", ()), ("made", "g", ()), ("asked", "t", (0,)), ("either", 2,
        ("made", "h", (3,)), ("made", "h", (0,)), ("made", "h", (1,)), ("either", 2, 5, 6),
        ("asked", "t", (3,)), ("either", 8, 5, 7)]
 MEANING = [0, 1, False, 1, 2, 3, 2, 2, True, 3]
+LOT = [{}, {"x": 0}, {"x": 0, "y": 1}]
 PARTING = {(0, "x"): 0, (1, "y"): 0, (2, "x"): 1}
 
 NO_CELLS = [None, "set", 3, [("set", "x", "f")], [("show", "x", "y")], [["if", "t", [], [], "a"]]]
@@ -91,7 +93,7 @@ SAMPLES = [
         "cell": CELL_REFUSED, "other": just(e.BadOtherCell, NO_CELLS, "other")}),
     (matters, {"cell": CELL, "name": "b"}, {
         "cell": CELL_REFUSED,
-        "name": just(e.BadName, [None, "x", "y", "z", "", 0, ["a"], Ellipsis], "name")}),
+        "name": just(e.BadName, [None, "x", "y", "z", "", 0, ["a"], Strange()], "name")}),
     (mattering, {"cell": CELL}, {"cell": CELL_REFUSED}),
     (is_stand, {"web": WEB, "thing": {"x": 3, "b": 0}}, {"web": WEB_REFUSED, "thing": ANYTHING}),
     (ran, {"web": WEB, "stand": {"b": 3, "a": 0}, "cell": CELL}, {
@@ -152,7 +154,7 @@ SAMPLES = [
     (pages_part, {"page": WITH_IF, "other": Page(PLAIN_CELLS[:2]), "what": "shown"}, {
         "page": SOUND_REFUSED,
         "other": [(thing, error, told) for thing, error, told in SOUND_REFUSED],
-        "what": just(e.BadWhat, [None, "", "show", 0, ["shown"], b"left"], "what")}),
+        "what": just(e.BadWhat, [None, "", "show", 0, ["shown"], b"left", Strange()], "what")}),
     (on_top, {"page": PLAIN, "runs": [0, 2, 1, 1]}, {"page": SOUND_REFUSED, "runs": RUNS_REFUSED}),
     (untrue_at, {"page": PLAIN, "runs": [0, 2, 1]}, {"page": SOUND_REFUSED, "runs": RUNS_REFUSED}),
     (untrue_meaning, {"page": WITH_IF, "runs": [0, 2, 1]}, {
@@ -184,7 +186,7 @@ SAMPLES = [
     (standing_lots, {"page": WITH_IF}, {"page": SOUND_REFUSED}),
     (can_stop, {"page": WITH_IF}, {"page": SOUND_REFUSED}),
     (stop_lot, {"page": Page(PLAIN_CELLS[:2])}, {"page": SOUND_REFUSED}),
-    (is_stop_lot, {"page": PLAIN, "thing": [{}, {"x": 0}]}, {"page": SOUND_REFUSED, "thing": ANYTHING}),
+    (is_stop_lot, {"page": Page(PLAIN_CELLS[:2]), "thing": LOT}, {"page": SOUND_REFUSED, "thing": ANYTHING}),
     (whole_lot, {"page": Page(PLAIN_CELLS[:2])}, {"page": SOUND_REFUSED}),
-    (is_whole_lot, {"page": PLAIN, "thing": [{}, {"x": 0}]}, {"page": SOUND_REFUSED, "thing": ANYTHING}),
+    (is_whole_lot, {"page": Page(PLAIN_CELLS[:2]), "thing": LOT}, {"page": SOUND_REFUSED, "thing": ANYTHING}),
 ]

@@ -80,6 +80,16 @@ class AlikeTest(unittest.TestCase):
                 for lot in alike_parts(web[:many]):
                     self.assertEqual(len({lots[part] for part in lot}), 1)
 
+    def test_a_row_more(self):
+        for seed in range(60):
+            web = a_web(seed, rows=10, most_asked=3, steps=1, tests=1)
+            for many in range(len(web)):
+                for one in parts_of(web[:many]):
+                    for other in parts_of(web[:many])[:3]:
+                        told = parting_meaning(web[:many], one, other)
+                        more = parting_meaning(web[:many + 1], one, other)
+                        self.assertEqual(told, more and more[:many])
+
     def test_no_parts(self):
         self.assertEqual(alike_parts([]), [])
         self.assertEqual(alike_parts([("asked", "t", ())]), [])

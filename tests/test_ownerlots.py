@@ -8,7 +8,8 @@ from pagestrue.ownerlots import is_stop_lot, is_whole_lot, stop_lot, whole_lot
 from pagestrue.pages import Page
 from pagestrue.twobehind import untrue_row
 from tests.making import maker, sound_cells
-from tests.plain import first_row, is_row_stopped_untrue, is_row_untrue, plain_go, plain_run, rows_up_to
+from tests.plain import (first_row, is_row_stopped_untrue, is_row_untrue, over_worlds, plain_go,
+                         plain_row, plain_run, rows_up_to)
 
 KINDS = [(stop_lot, is_stop_lot, is_row_stopped_untrue),
          (whole_lot, is_whole_lot, lambda cells, row: is_row_untrue(cells, row, False))]
@@ -64,6 +65,7 @@ class LotTest(unittest.TestCase):
             self.assertIn(owners_along(cells, row, may_stop), lot)
         self.assertIs(is_lot(page, tuple(lot) * 2), True)
         self.assertIs(is_lot(page, lot[::-1]), True)
+        self.assertIs(is_lot(page, [dict(reversed(owners.items())) for owners in lot]), True)
         for owners in lot:
             self.assertIs(is_lot(page, [other for other in lot if other != owners]), False)
             if owners:
@@ -84,6 +86,31 @@ class LotTest(unittest.TestCase):
             self.assertIs(is_lot(page, lot + [{"x": 0}]), True)
             self.assertIs(is_lot(page, lot[:3]), False)
             self.assertIs(is_lot(page, lot[1:]), False)
+
+    def test_what_stands_is_what_the_owners_stand_for(self):
+        many = 0
+        for seed, cells in enumerate(some_pages(200, depth=2)):
+            rng = maker(seed)
+            for may_stop, word in ((True, stop_lot(Page(cells))[0]), (False, whole_lot(Page(cells))[0])):
+                row = [rng.randrange(len(cells)) for _ in range(6)]
+                owners = owners_along(cells, row, may_stop)
+                if word == "closed" and owners:
+                    many += 1
+                    self.check_owners(cells, row, owners, may_stop)
+        self.assertGreater(many, 100)
+
+    def check_owners(self, cells, row, owners, may_stop):
+        def act(ask):
+            lefts = [run[1] for run in plain_row(cells, range(len(cells)), {}, ask)[0]]
+            values = {}
+            for place in row:
+                if may_stop:
+                    values = plain_go(cells[place], values, ask)[1]
+                else:
+                    values = (plain_run(cells[place], values, ask) or [values])[0]
+            self.assertEqual(values, {name: lefts[owners[name]][name] for name in owners})
+
+        over_worlds(act)
 
     def test_some_lots_of_all(self):
         """Lots of all owners, held against the words of the point."""

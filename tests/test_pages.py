@@ -18,6 +18,14 @@ def nested(depth, sides):
     return told
 
 
+def chain(depth):
+    """Ifs within the yes of one another."""
+    told = []
+    for _ in range(depth):
+        told = [("if", "t", [], told, [])]
+    return told
+
+
 class CellTest(unittest.TestCase):
     def test_cells(self):
         for cell in [[], (), [("set", "x", "f", [])], [["set", "a2345678", "x", ("x", "x", "y")]],
@@ -25,7 +33,7 @@ class CellTest(unittest.TestCase):
                      [("if", "if", ["if"], (), [])],
                      [("if", "t", [], [("copy", "x", "y"), ("set", "y", "f", [])],
                        [("set", "y", "f", []), ("copy", "x", "x"), ("set", "x", "f", ["y"])])],
-                     nested(12, [("copy", "x", "y")]), nested(5, [])]:
+                     nested(12, [("copy", "x", "y")]), nested(5, []), chain(40)]:
             self.assertIs(is_cell(cell), True, cell)
 
     def test_wrong_statements(self):
@@ -36,7 +44,7 @@ class CellTest(unittest.TestCase):
                           ("set", "x", "f", {}), ("set", "x", "f", {"a": 1}), ("set", "\u00e4", "f", []),
                           ("copy", "x"), ("copy", "x", "y", "z"), ("copy", "x", ["y"]), ("show",),
                           ("show", "x", "y"), ("show", "X"), ("show", ["x"]), ("cell",), ("end",),
-                          ("if", "t", [], []), ("if", "t", [], [], [], []), ("if", "T", [], [], []),
+                          ("if", "t", [], []), ("if", "t", [], [], [], []), ("if", "T", [], [], []), ("when", "t", [], [], []),
                           ("if", "t", "a", [], []), ("if", "t", [], "", []), ("if", "t", [], [], None),
                           ("if", "t", [], [("show", "x")], [("show", "x")]), ("Set", "x", "f", []),
                           ("if", "t", [], [("copy", "x", "y")], []), (["set"], "x", "f", []),

@@ -110,6 +110,12 @@ class StandingTest(unittest.TestCase):
             most = max(most, len(can_stop(page)))
         self.assertGreater(most, 2)
 
+    def test_stops_are_told_by_cells(self):
+        page = Page([[("set", "a", "f", [])], [("set", "b", "f", [])], [("show", "a"), ("show", "b")],
+                     [("show", "b")]])
+        self.assertEqual(can_stop(page), [(2, 0), (2, 1), (3, 0)])
+        self.assertEqual(standing_lots(page), [[], ["a"], ["a", "b"], ["b"]])
+
     def test_no_cells(self):
         self.assertEqual(standing_lots(Page([])), [[]])
         self.assertEqual(can_stop(Page([])), [])

@@ -142,6 +142,10 @@ class LeastTest(unittest.TestCase):
             lengths[len(least)] = True
         self.assertGreater(len(lengths), 2)
 
+    def test_lots_ascend(self):
+        page = Page([[("set", "x", "f", [])], [("show", "x")], [("show", "x")], [("set", "x", "g", [])]])
+        self.assertEqual(left_out(page), [[1, 2], [3]])
+
     def fits(self, cells):
         return is_sound(cells) and first_row(cells, 3, behind_top) is None
 

@@ -27,7 +27,7 @@ class FaultTest(unittest.TestCase):
                 (None, "form"), ("given", "form"), ([], "form"), (("given",), "form"),
                 (("given", -1), "form"), (("given", True), "form"), (("given", 0, 0), "form"),
                 (("given", "0"), "form"), (("given", 1.0), "form"), (("made", "f"), "form"),
-                (("made", "f", 0), "form"), (("made", "F", ()), "form"), (("made", 0, ()), "form"),
+                (("made", "f", 0), "form"), (("done", "f", ()), "form"), (("made", "F", ()), "form"), (("made", 0, ()), "form"),
                 (("made", "f", (0, True)), "form"), (("made", "f", (9, -1)), "form"),
                 (("made", "f", (), ()), "form"), (("asked", "", ()), "form"),
                 (("asked", "t", "0"), "form"), (("asked", "t", {}), "form"), (("either", 1, 0), "form"),
