@@ -73,7 +73,8 @@ SAMPLES = [
     (renamed, {"page": PLAIN, "names": {"x": "y", "y": "end"}}, {
         "page": PAGE_REFUSED,
         "names": just(e.BadNames, [None, [], {}, {"x": "a"}, {"x": "a", "y": "a"},
-                                   {"x": "a", "y": "b", "z": "c"}, {"x": "a", "z": "b"},
+                                   {"x": "a", "y": "b", "z": "c"}, {"x": "a", "y": "b", "z": "b"},
+                                   {"x": "a", "z": "b"},
                                    {"x": "a", "y": "B"}, {"x": "a", "y": 1}, {"x": "a", "y": []}],
                       "names")}),
     (page_text, {"page": WITH_IF}, {"page": PAGE_REFUSED}),
