@@ -71,11 +71,13 @@ def do_if(table, stand, statement):
 def run_row(table, stand, forms, runs):
     """Of each run None for a miss, else what is shown and left; and the stand behind them all."""
     told = []
+    # Where nothing is run, or all misses, what was passed must not be what is told.
+    behind = ascending(stand)
     for place in runs:
-        went = run_cell(table, stand, forms[place])
+        went = run_cell(table, behind, forms[place])
         if went is None:
             told.append(None)
         else:
-            stand = went[0]
+            behind = went[0]
             told.append((went[1], went[2]))
-    return (told, stand)
+    return (told, behind)

@@ -3,18 +3,10 @@
 from pagestrue.cellforms import names_read, names_set
 from pagestrue.cellruns import run_cell
 from pagestrue.errors import BadParting
-from pagestrue.pages import Page, judged_page, refuse_ifs
+from pagestrue.pages import Page
 from pagestrue.rowtables import RowTable, cone_of
-from pagestrue.topruns import refuse_unsound, run_top
+from pagestrue.topruns import plain_forms, run_top
 from pagestrue.words import is_name, is_number, is_place
-
-
-def plain_forms(page):
-    """The cells, as tuples, of a sound page without ifs."""
-    forms = judged_page(page)
-    refuse_ifs(forms)
-    refuse_unsound(forms)
-    return forms
 
 
 def needs_by(page):

@@ -46,6 +46,13 @@ def refuse_ifs(forms):
             raise HasIf(at)
 
 
+def ifless_forms(page):
+    """The cells, as tuples, of a page without ifs."""
+    forms = judged_page(page)
+    refuse_ifs(forms)
+    return forms
+
+
 def names_of(page):
     """The ascending lists of the page's names of values, of steps, of tests."""
     found = ({}, {}, {})

@@ -3,7 +3,7 @@
 from pagestrue.cellforms import names_read, names_set
 from pagestrue.cellruns import has_all, run_row
 from pagestrue.errors import BadRuns, Unsound
-from pagestrue.pages import judged_page
+from pagestrue.pages import ifless_forms, judged_page
 from pagestrue.rowtables import RowTable
 from pagestrue.words import is_list, is_place
 
@@ -22,6 +22,13 @@ def miss_of(forms, stand):
 def sound_forms(page):
     """The cells, as tuples, of a sound page."""
     forms = judged_page(page)
+    refuse_unsound(forms)
+    return forms
+
+
+def plain_forms(page):
+    """The cells, as tuples, of a sound page without ifs."""
+    forms = ifless_forms(page)
     refuse_unsound(forms)
     return forms
 

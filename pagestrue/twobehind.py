@@ -1,16 +1,13 @@
 """Short rows behind the run from the top, which tell of all rows."""
 
 from pagestrue.cellforms import has_if
-from pagestrue.pages import judged_page, refuse_ifs
 from pagestrue.toplooks import TopLook, closed_walk
-from pagestrue.topruns import refuse_unsound, sound_forms
+from pagestrue.topruns import plain_forms, sound_forms
 
 
 def untrue_pair(page):
     """None if all runs of one and of two cells behind the top are true, else the least list."""
-    forms = judged_page(page)
-    refuse_ifs(forms)
-    refuse_unsound(forms)
+    forms = plain_forms(page)
     look = TopLook(forms)
     for first in range(len(forms)):
         if look.untrue(first, look.last) is not None:

@@ -56,3 +56,21 @@ def first_wrong(oks):
         if not is_right:
             return at
     return None
+
+
+def first_unrisen(forms):
+    """The index of the first form that is None or not above the one ahead, None without one."""
+    for at, form in enumerate(forms):
+        if form is None or (at > 0 and form <= forms[at - 1]):
+            return at
+    return None
+
+
+def risen_places(thing, many):
+    """The index of the first thing that is no place, or not above the one ahead, None without one.
+
+    It is 0 for no list; each is to be the place of one of so many things.
+    """
+    if not is_list(thing):
+        return 0
+    return first_unrisen([one if is_place(one, many) else None for one in thing])

@@ -191,3 +191,38 @@ SAMPLES = [
     (whole_lot, {"page": Page(PLAIN_CELLS[:2])}, {"page": SOUND_REFUSED}),
     (is_whole_lot, {"page": Page(PLAIN_CELLS[:2]), "thing": LOT}, {"page": SOUND_REFUSED, "thing": ANYTHING}),
 ]
+
+# Calls that run nothing, or nothing that does not miss: what is told must be new all the same.
+BACKWARDS = {"z": 9, "y": 3, "x": 0}
+NO_CELLS_AT_ALL = Page([])
+NOTHING_RUN = [
+    (top_behind, {"web": WEB, "stand": BACKWARDS, "page": NO_CELLS_AT_ALL}),
+    (top_behind, {"web": WEB, "stand": BACKWARDS, "page": Page([[], []])}),
+    (top_behind, {"web": WEB, "stand": BACKWARDS, "page": Page([[("show", "y")]])}),
+    (top_behind, {"web": WEB, "stand": {}, "page": NO_CELLS_AT_ALL}),
+    (ran, {"web": WEB, "stand": BACKWARDS, "cell": []}),
+    (ran, {"web": WEB, "stand": BACKWARDS, "cell": [("show", "z")]}),
+    (went, {"web": WEB, "stand": BACKWARDS, "cell": []}),
+    (went, {"web": WEB, "stand": BACKWARDS, "cell": [("show", "a")]}),
+    (joined_cells, {"cell": [], "other": []}),
+    (renamed, {"page": NO_CELLS_AT_ALL, "names": {}}),
+    (put_row, {"web": WEB, "row": WEB[3]}),
+    (joined_webs, {"web": [], "other": []}),
+    (joined_webs, {"web": WEB, "other": []}),
+    (thinned_web, {"web": [], "parts": []}),
+    (decided, {"web": WEB, "truths": {}}),
+    (free_meaning, {"web": [], "choices": []}),
+    (played, {"page": PLAIN, "runs": []}),
+    (stand_behind, {"page": PLAIN, "runs": [1]}),
+    (stand_behind, {"page": NO_CELLS_AT_ALL, "runs": []}),
+    (leavers, {"page": PLAIN, "runs": [1, 2]}),
+    (top, {"page": NO_CELLS_AT_ALL}),
+    (on_top, {"page": PLAIN, "runs": []}),
+    (went_along, {"page": PLAIN, "runs": []}),
+    (parted, {"page": NO_CELLS_AT_ALL, "parting": {}}),
+    (whole_lot, {"page": NO_CELLS_AT_ALL}),
+    (standing_lots, {"page": NO_CELLS_AT_ALL}),
+]
+
+# All calls that tell something: each function with what it is passed.
+CALLS = [(function, passed) for function, passed, _ in SAMPLES] + NOTHING_RUN

@@ -6,7 +6,7 @@ import unittest
 from pagestrue import errors
 from pagestrue.pages import Page
 from tests.making import as_lists, as_tuples, strange_things
-from tests.samples import SAMPLES
+from tests.samples import CALLS, SAMPLES
 
 
 def same_kind(thing, other):
@@ -43,7 +43,7 @@ def spoil(thing):
 
 class WordsTest(unittest.TestCase):
     def test_lists_and_tuples_mean_the_same(self):
-        for function, passed, _ in SAMPLES:
+        for function, passed in CALLS:
             told = function(**passed)
             for key in list(passed) + [None]:
                 for other in (as_lists, as_tuples):
@@ -52,7 +52,7 @@ class WordsTest(unittest.TestCase):
                         self.assertTrue(same_kind(told, function(**mixed)))
 
     def test_names_and_places_of_parameters(self):
-        for function, passed, _ in SAMPLES:
+        for function, passed in CALLS:
             with self.subTest(function=function.__name__):
                 self.assertEqual(function(*passed.values()), function(**passed))
                 names = function.__code__.co_varnames[:function.__code__.co_argcount]
@@ -60,7 +60,7 @@ class WordsTest(unittest.TestCase):
                 self.assertIsNone(function.__defaults__)
 
     def test_nothing_passed_is_changed(self):
-        for function, passed, _ in SAMPLES:
+        for function, passed in CALLS:
             with self.subTest(function=function.__name__):
                 mine = as_lists(passed)
                 cells = {key: mine[key].cells() for key in mine if isinstance(mine[key], Page)}
@@ -72,7 +72,7 @@ class WordsTest(unittest.TestCase):
                     self.assertEqual(mine[key].cells(), cells[key])
 
     def test_told_things_are_new(self):
-        for function, passed, _ in SAMPLES:
+        for function, passed in CALLS:
             with self.subTest(function=function.__name__):
                 told = function(**passed)
                 if isinstance(told, Page):
@@ -87,7 +87,7 @@ class WordsTest(unittest.TestCase):
                 self.assertTrue(same_kind(again.cells() if isinstance(again, Page) else again, before))
 
     def test_the_order_of_passed_dicts_plays_no_part(self):
-        for function, passed, _ in SAMPLES:
+        for function, passed in CALLS:
             with self.subTest(function=function.__name__):
                 turned = {}
                 for key, thing in passed.items():

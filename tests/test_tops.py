@@ -19,6 +19,16 @@ class TopTest(unittest.TestCase):
         self.assertEqual(needs(page), [])
         self.assertEqual(top_behind([("given", 0)], {"x": 0}, page), ([("given", 0)], [], [], {"x": 0}))
 
+    def test_where_nothing_is_run_the_told_stand_is_new_and_ascending(self):
+        web = [("given", 0)]
+        for cells in ([], [[]], [[], []], [[("show", "y")]]):
+            stand = {"y": 0, "x": 0}
+            told = top_behind(web, stand, Page(cells))
+            self.assertEqual(list(told[3]), ["x", "y"])
+            told[3]["z"] = 0
+            told[0].append(("given", 1))
+            self.assertEqual((web, stand), ([("given", 0)], {"y": 0, "x": 0}))
+
     def test_what_is_played_in_order(self):
         sound = 0
         for seed in range(200):
