@@ -1,7 +1,6 @@
 """The shortest row that misleads, and the least lots of cells without which none does."""
 
-from itertools import combinations
-
+from pagestrue.leastlots import least_lots
 from pagestrue.toplooks import TopLook, closed_walk
 from pagestrue.topruns import miss_of, sound_forms
 from pagestrue.twobehind import row_behind
@@ -15,17 +14,7 @@ def first_untrue(page):
 def left_out(page):
     """The ascending list of the least lots without which the page never misleads."""
     forms = sound_forms(page)
-    found = []
-    for many in range(len(forms) + 1):
-        for lot in combinations(range(len(forms)), many):
-            if not has_within(found, lot) and is_true_without(forms, lot):
-                found.append(list(lot))
-    return sorted(found)
-
-
-def has_within(lots, lot):
-    """Whether one of the lots stands within this one."""
-    return any([all([place in lot for place in least]) for least in lots])
+    return least_lots(len(forms), lambda lot: is_true_without(forms, lot))
 
 
 def is_true_without(forms, lot):

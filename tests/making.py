@@ -97,6 +97,22 @@ def any_cells(seed, cells=3, depth=1, many=2, calm=0.5, **kinds):
     return [made.block(set(), many, depth, True) for _ in range(cells)]
 
 
+def reading_cells(seed, cells, many):
+    """A cell that sets some names of nothing, then cells that read most often."""
+    rng = maker(seed)
+    told = [[("set", name, "f", []) for name in rng.sample("abc", rng.randint(1, 3))]]
+    for _ in range(cells - 1):
+        cell = []
+        for _ in range(rng.randint(1, many)):
+            name, does, one, other = rng.choice("abc"), rng.choice("fg"), rng.choice("abc"), rng.choice("abc")
+            cell.append(rng.choice([("copy", name, one), ("set", name, does, [one]),
+                                    ("set", name, does, [one, other]), ("set", name, does, []),
+                                    ("copy", name, one), ("show", one)]))
+        told.append(cell)
+    rng.shuffle(told)
+    return told
+
+
 def a_web(seed, rows=10, most_asked=3, steps=2, tests=2, givens=2):
     """A web of so many rows at most."""
     rng = maker(seed)

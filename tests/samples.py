@@ -223,6 +223,3 @@ NOTHING_RUN = [
     (whole_lot, {"page": NO_CELLS_AT_ALL}),
     (standing_lots, {"page": NO_CELLS_AT_ALL}),
 ]
-
-# All calls that tell something: each function with what it is passed.
-CALLS = [(function, passed) for function, passed, _ in SAMPLES] + NOTHING_RUN

@@ -3,10 +3,14 @@
 import copy
 import unittest
 
-from pagestrue import errors
+from pagestrue import errors, refusals
 from pagestrue.pages import Page
-from tests.making import as_lists, as_tuples, strange_things
-from tests.samples import CALLS, SAMPLES
+from tests.making import Strange, as_lists, as_tuples, strange_things
+from tests import samples, samples_more
+
+SAMPLES = samples.SAMPLES + samples_more.SAMPLES_MORE
+CALLS = [(function, passed) for function, passed, _ in SAMPLES]
+CALLS += samples.NOTHING_RUN + samples_more.NOTHING_MORE
 
 
 def same_kind(thing, other):
@@ -39,6 +43,24 @@ def spoil(thing):
             one.append("spoilt")
         else:
             one["spoilt"] = "spoilt"
+
+
+def nearly(thing, spoilers):
+    """The thing with one of the things in it exchanged, taken away or put in twice."""
+    yield from spoilers
+    if isinstance(thing, (list, tuple)):
+        kind = type(thing)
+        for at, one in enumerate(thing):
+            for other in nearly(one, spoilers):
+                yield kind([*thing[:at], other, *thing[at + 1:]])
+            yield kind([*thing[:at], *thing[at + 1:]])
+            yield kind([*thing[:at], one, one, *thing[at + 1:]])
+    if isinstance(thing, dict):
+        for key in thing:
+            for other in nearly(thing[key], spoilers):
+                yield {**thing, key: other}
+            yield {one: thing[one] for one in thing if one != key}
+            yield {1: thing[key], **thing}
 
 
 class WordsTest(unittest.TestCase):
@@ -115,7 +137,7 @@ class WordsTest(unittest.TestCase):
     def test_is_and_fault_take_any_object(self):
         for function, passed, refused in SAMPLES:
             name = function.__name__
-            if name.startswith("is_") or name.endswith("_fault"):
+            if name.startswith("is_") and name != "is_enough" or name.endswith("_fault"):
                 key = list(passed)[-1]
                 for thing in strange_things():
                     with self.subTest(function=name):
@@ -123,7 +145,18 @@ class WordsTest(unittest.TestCase):
                         if name.startswith("is_"):
                             self.assertIs(type(told), bool)
                         else:
-                            self.assertIn(type(told), (tuple, type(None)))
+                            self.assertIn(type(told), (tuple, int, type(None)))
+
+    def test_is_and_fault_take_what_is_nearly_right(self):
+        spoilers = [Strange(), [Strange()], None, True, -1, 10 ** 5000, 0.0, "", "x", [], {}, {"x": 0}, (0, 0)]
+        for function, passed in CALLS:
+            name = function.__name__
+            key = list(passed)[-1]
+            if key == "thing":
+                for thing in nearly(passed[key], spoilers):
+                    told = function(**{**passed, key: thing})
+                    if name.startswith("is_"):
+                        self.assertIs(type(told), bool, name)
 
     def test_equal_pages(self):
         cells = [[("set", "x", "f", [])], []]
@@ -147,26 +180,51 @@ class ErrorsTest(unittest.TestCase):
         "index": ["BadCells", "Unsound", "BadWeb", "BadOther", "BadParts", "BadChoices", "HasIf",
                   "BadPlaces", "BadPlain", "BadViews", "BadNumbers", "BadStrangers", "BadLot",
                   "BadValues", "BadHands", "BadOrder"]}
+    REFUSALS = {
+        "k": ["BadK"], "plan": ["BadPlan"], "flow": ["BadFlow"], "price": ["BadPrice"], "web": ["BadPlainWeb"],
+        "script": ["BadScript"], "hands": ["BadHandCount"], "lots": ["BadLots"], "wide": ["BadWide"],
+        "stand": ["BadWideStand"], "cell": ["BadWideCell"], "boxpage": ["BadBoxPage"], "standing": ["BadStanding"],
+        "boxcell": ["BadBoxCell"], "row": ["Misleads"], "other": ["BadOtherPage"], "place": ["BadPut"],
+        "tag": ["NoTag"], "many": ["BadMany"], "tree": ["BadTree"],
+        "index": ["BadFences", "BadMaking", "BadLoading", "BadWanted", "BadIndex", "BadWideCells",
+                  "BadBoxCells", "UnsoundBoxes", "BadViewsForm"]}
+    TEXTS = ["BadWebText", "BadStandText", "BadRunsText", "BadMeaningText", "BadCasesText", "BadViewsText"]
 
-    def test_each_keeps_the_very_things(self):
+    def keeps(self, module, parameters):
+        """Each class keeps what it is made with; how many classes there are."""
         many = 0
-        for key, names in self.PARAMETERS.items():
+        for key, names in parameters.items():
             for name in names:
-                error = getattr(errors, name)
+                error = getattr(module, name)
                 self.assertEqual(error.__bases__, (errors.PageError,))
+                self.assertEqual(error.__module__, module.__name__)
                 for thing in strange_things():
                     self.assertIs(getattr(error(thing), key), thing)
                     made = error(**{key: thing})
                     self.assertIs(getattr(made, key), thing)
                     str(made)
                 many += 1
-        self.assertEqual(many, 36)
+        return many
+
+    def test_each_keeps_the_very_things(self):
+        self.assertEqual(self.keeps(errors, self.PARAMETERS), 36)
+        self.assertEqual(self.keeps(refusals, self.REFUSALS), 29)
 
     def test_line_and_sign(self):
-        self.assertEqual(errors.BadPageText.__bases__, (errors.PageError,))
-        told = errors.BadPageText(sign=10 ** 5000, line=Ellipsis)
-        self.assertEqual((told.line, told.sign), (Ellipsis, 10 ** 5000))
-        self.assertEqual(errors.BadPageText(3, 4).sign, 4)
+        kinds = [errors.BadPageText] + [getattr(refusals, name) for name in self.TEXTS]
+        for error in kinds:
+            self.assertEqual(error.__bases__, (errors.PageError,))
+            told = error(sign=10 ** 5000, line=Ellipsis)
+            self.assertEqual((told.line, told.sign), (Ellipsis, 10 ** 5000))
+            self.assertEqual((error(3, 4).line, error(3, 4).sign), (3, 4))
+
+    def test_pairs(self):
+        one = Strange()
+        told = refusals.BadPair(other=10 ** 5000, one=one)
+        self.assertIs(told.one, one)
+        self.assertEqual(told.other, 10 ** 5000)
+        self.assertEqual(refusals.BadPair(1, 2).other, 2)
+        self.assertEqual(refusals.BadPair.__bases__, (errors.PageError,))
 
     def test_page_error(self):
         self.assertEqual(errors.PageError.__bases__, (ValueError,))

@@ -17,7 +17,7 @@ METHODS = {"append", "clear", "copy", "count", "endswith", "extend", "find", "ge
 LIBRARY = {"itertools": {"combinations", "permutations", "product", "chain"}, "math": {"gcd", "comb"}}
 BARRED = {"type", "typing", "enum", "Enum", "Flag", "Generic", "Protocol", "ABC", "namedtuple", "register",
           "elements", "open", "input", "law", "mro", "dataclass", "overload", "contextmanager"}
-NODES = (ast.Lambda, ast.GeneratorExp, ast.Yield, ast.YieldFrom, ast.Global, ast.Nonlocal, ast.Try,
+NODES = (ast.GeneratorExp, ast.Yield, ast.YieldFrom, ast.Global, ast.Nonlocal, ast.Try,
          ast.With, ast.AsyncFunctionDef, ast.Await, ast.NamedExpr, ast.JoinedStr, ast.Starred, ast.Assert,
          ast.Delete, ast.Div, ast.Pow, ast.AnnAssign, ast.Match)
 INTERFACE = {
@@ -40,6 +40,26 @@ INTERFACE = {
     "namesparted": "needs_by clashes is_parting parted fewest_names least_parting",
     "stops": "went went_along standing_lots can_stop",
     "ownerlots": "stop_lot is_stop_lot whole_lot is_whole_lot",
+    "liveparts": "live_statements live_page fewest_cells",
+    "comings": "can_run can_stand makes is_ring ring_of",
+    "allstands": "all_stands is_closed",
+    "rounds": "comes_round",
+    "againviews": "views_along",
+    "againrows": "come_again is_again fewest_runs first_loss",
+    "nevers": "lacking is_never",
+    "againlots": "enough_lots needed_lots",
+    "pagenumbers": "is_numbers lacking_numbers is_history histories is_history_with history_shown",
+    "passes": "pass_of is_pass parts_by words_by",
+    "opencertificates": "open_certificate is_open_certificate is_enough fewest_asked",
+    "savedvalues": "bears value_clash",
+    "savedpages": "bearing sure_runs saved is_none_certificate",
+    "savedwords": "fewest_doubts saved_words",
+    "weaves": "woven strays stands_behind",
+    "steadiness": "conflicts straying is_straying",
+    "steadynames": "other_naming steady_naming steady_names",
+    "weavecounts": "woven_counts kth_order",
+    "fences": "keeps_fences fenced_counts least_fences",
+    "keepplans": "plan_fault plan_price",
 }
 
 
