@@ -5,9 +5,11 @@ number alone the part shown changes. All such numbers have to be asked, and they
 something shown needs a given row: of that no history knows what it was.
 """
 
-from pagestrue.passwalks import known_run
+from pagestrue.cellruns import run_cell
+from pagestrue.likeness import pairs_left
+from pagestrue.makings import given_table
 from pagestrue.pastdoubts import FlowLook
-from pagestrue.rowtables import RowTable
+from pagestrue.rowtables import cone_of, led_row
 
 
 class AskLook:
@@ -17,6 +19,10 @@ class AskLook:
         self.look = look
         self.flows = FlowLook(look)
         self.live = self.live_names()
+        # A term is a row of this table: the part of a name told by what stood ahead, the given rows.
+        self.table, stand = given_table(look.names)
+        self.terms = [run_cell(self.table, stand, form)[0] for form in look.forms]
+        self.memo = {}
 
     def shown_sources(self, number):
         """The names, ahead of the number, of which what counts as shown there is made."""
@@ -50,31 +56,50 @@ class AskLook:
 
     def asked(self):
         """The ascending list of the lacking numbers at which it counts who ran there."""
-        table = RowTable([])
-        start = self.look.starting(table)
-        states = [tuple([start[name] for name in self.live[0]])]
-        found = []
-        for number in range(1, self.look.many + 1):
-            behind = {}
-            for state in states:
-                told = self.told_behind(table, number, state)
-                if told != told[:1] * len(told) and number not in found:
-                    found.append(number)
-                for one in told:
-                    behind[one] = True
-            states = list(behind)
-        return found
+        return [number for number in self.look.gaps if self.counts_who(number)]
 
-    def told_behind(self, table, number, state):
-        """What the live names stand for behind each cell's run at the number."""
-        stand = {name: None for name in self.look.names}
-        for name, part in zip(self.live[number - 1], state):
-            stand[name] = part
-        told = []
+    def counts_who(self, number):
+        """Whether some live name can come to be unlike by who runs at the number."""
+        for name in self.live[number]:
+            terms = [self.terms[place][name] for place in self.look.runners[number - 1]]
+            if not all([self.is_one(number - 1, terms[0], term) for term in terms[1:]]):
+                return True
+        return False
+
+    def is_one(self, number, term, other):
+        """Whether two terms of what stands behind the number are one part in all histories.
+
+        What is asked goes back number by number, to who can have run there, up to where each name
+        stands for a part of its own.
+        """
+        pairs = pairs_left(self.table.rows, term, other, "given")
+        if not pairs or number == 0:
+            return pairs == []
+        for pair in pairs:
+            key = (number, pair)
+            if key not in self.memo:
+                self.memo[key] = self.is_one_ahead(number, pair)
+            if not self.memo[key]:
+                return False
+        return True
+
+    def is_one_ahead(self, number, pair):
+        """Whether the two are one, whoever ran at the number."""
         for place in self.look.runners[number - 1]:
-            now = known_run(table, stand, self.look.forms[place])[0]
-            told.append(tuple([now[name] for name in self.live[number]]))
-        return told
+            if not self.is_one(number - 1, self.led_back(pair[0], place), self.led_back(pair[1], place)):
+                return False
+        return True
+
+    def led_back(self, term, place):
+        """The term, of what stands behind a run of the cell, as one of what stood ahead of it."""
+        rows = self.table.rows
+        places = {}
+        for at in cone_of(rows, [term]):
+            if rows[at][0] == "given":
+                places[at] = self.terms[place][self.look.names[rows[at][1]]]
+            else:
+                places[at] = self.table.put_in(led_row(rows[at], places))
+        return places[term]
 
 
 def enough_numbers(look):

@@ -46,27 +46,8 @@ class Likeness:
         return places
 
     def hard_pairs(self, one, other):
-        """The pairs with an either on which two parts' likeness hangs, None if they are unlike.
-
-        Steps are free: what two like steps make is alike just if their needs are.
-        """
-        hard = []
-        seen = {}
-        todo = [(one, other)]
-        while todo:
-            pair = todo.pop()
-            if pair[0] == pair[1] or pair in seen:
-                continue
-            seen[pair] = True
-            first = self.table.rows[pair[0]]
-            second = self.table.rows[pair[1]]
-            if first[0] == "either" or second[0] == "either":
-                hard.append(pair)
-            elif not are_like_steps(first, second):
-                return None
-            else:
-                todo.extend(list(zip(first[2], second[2])))
-        return hard
+        """The pairs with an either on which two parts' likeness hangs, None if they are unlike."""
+        return pairs_left(self.table.rows, one, other, "either")
 
     def asked_in(self, one, other):
         """An asked row, made of no either, on which one of the two hangs."""
@@ -75,6 +56,31 @@ class Likeness:
         inner = [at for at in cone_of(rows, [asked]) if rows[at][0] == "either"]
         # The first either of all has nothing but other rows ahead of it.
         return rows[inner[0]][1] if inner else asked
+
+
+def pairs_left(rows, one, other, word):
+    """The pairs with a row of this word on which it hangs whether two parts are one, or None.
+
+    Steps are free: what two like steps make is one part just if their needs are. It is None if
+    they never are.
+    """
+    left = []
+    seen = {}
+    todo = [(one, other)]
+    while todo:
+        pair = todo.pop()
+        if pair[0] == pair[1] or pair in seen:
+            continue
+        seen[pair] = True
+        first = rows[pair[0]]
+        second = rows[pair[1]]
+        if word in (first[0], second[0]):
+            left.append(pair)
+        elif not are_like_steps(first, second):
+            return None
+        else:
+            todo.extend(list(zip(first[2], second[2])))
+    return left
 
 
 def are_like_steps(first, second):
