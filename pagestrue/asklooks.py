@@ -17,6 +17,7 @@ class AskLook:
 
     def __init__(self, look):
         self.look = look
+        self.runners = look.all_runners()
         self.flows = FlowLook(look)
         self.live = self.live_names()
         # A term is a row of this table: the part of a name told by what stood ahead, the given rows.
@@ -26,7 +27,7 @@ class AskLook:
 
     def shown_sources(self, number):
         """The names, ahead of the number, of which what counts as shown there is made."""
-        return [name for place in self.look.runners[number - 1] if self.look.numbers[place] == number
+        return [name for place in self.runners[number - 1] if self.look.numbers[place] == number
                 for names in self.flows.shown_from[place] for name in names]
 
     def live_names(self):
@@ -34,7 +35,7 @@ class AskLook:
         told = [[]]
         for number in range(self.look.many, 0, -1):
             found = self.shown_sources(number)
-            for place in self.look.runners[number - 1]:
+            for place in self.runners[number - 1]:
                 for name in told[-1]:
                     found.extend(self.flows.left_from[place][name])
             told.append(sorted(set(found)))
@@ -47,7 +48,7 @@ class AskLook:
             if any([name in given for name in self.shown_sources(number)]):
                 return True
             behind = {}
-            for place in self.look.runners[number - 1]:
+            for place in self.runners[number - 1]:
                 for name, sources in self.flows.left_from[place].items():
                     if any([source in given for source in sources]):
                         behind[name] = True
@@ -56,12 +57,12 @@ class AskLook:
 
     def asked(self):
         """The ascending list of the lacking numbers at which it counts who ran there."""
-        return [number for number in self.look.gaps if self.counts_who(number)]
+        return [number for number in self.look.gaps() if self.counts_who(number)]
 
     def counts_who(self, number):
         """Whether some live name can come to be unlike by who runs at the number."""
         for name in self.live[number]:
-            terms = [self.terms[place][name] for place in self.look.runners[number - 1]]
+            terms = [self.terms[place][name] for place in self.runners[number - 1]]
             if not all([self.is_one(number - 1, terms[0], term) for term in terms[1:]]):
                 return True
         return False
@@ -85,7 +86,7 @@ class AskLook:
 
     def is_one_ahead(self, number, pair):
         """Whether the two are one, whoever ran at the number."""
-        for place in self.look.runners[number - 1]:
+        for place in self.runners[number - 1]:
             if not self.is_one(number - 1, self.led_back(pair[0], place), self.led_back(pair[1], place)):
                 return False
         return True

@@ -50,9 +50,7 @@ def links_of(forms):
 def is_ring(page, thing):
     """Whether it is a ring of the page."""
     links = links_of(ifless_forms(page))
-    if not is_list(thing) or len(thing) == 0:
-        return False
-    if not all([is_link(links, one) for one in thing]):
+    if not is_list(thing) or not all([is_link(links, one) for one in thing]):
         return False
     sources = [one[1] for one in thing]
     return [one[2] for one in thing] == sources[1:] + sources[:1] and any([one[3] for one in thing])

@@ -13,7 +13,7 @@ def is_numbers(page, thing):
 def lacking_numbers(page, numbers):
     """The dict from the numbers that no cell has to the places of those that can have run there."""
     look = judged_past(page, numbers)
-    return {number: look.who_can(number) for number in look.gaps}
+    return {number: look.who_can(number) for number in look.gaps()}
 
 
 def is_history(page, numbers, thing):

@@ -21,13 +21,14 @@ def pass_of(page, numbers, strangers):
 def is_pass(page, numbers, strangers, thing):
     """Whether it is such a web and such stands, whatever other rows the web has."""
     look = judged_past(page, numbers)
-    table = RowTable([])
-    stands = known_stands(look, judged_strangers(look, strangers), table)
-    if not is_list(thing) or len(thing) != 2 or not is_list(thing[1]) or len(thing[1]) != len(stands):
+    judged_strangers(look, strangers)
+    if not is_list(thing) or len(thing) != 2 or not is_list(thing[1]) or len(thing[1]) != look.many + 1:
         return False
     its_table, fault = scanned_web(thing[0])
     if fault is not None:
         return False
+    table = RowTable([])
+    stands = known_stands(look, strangers, table)
     places = join_rows(table, its_table.rows)
     for stand, other in zip(stands, thing[1]):
         if not is_known_stand(its_table.rows, look.names, other):

@@ -20,7 +20,7 @@ def known_run(table, stand, form):
 def known_stands(look, strangers, table):
     """What is known to stand ahead of the first run, and behind each number."""
     stands = [{name: None for name in look.names}]
-    for at, places in enumerate(look.runners):
+    for at, places in enumerate(look.all_runners()):
         if at + 1 in strangers:
             stands.append(stands[0])
         else:

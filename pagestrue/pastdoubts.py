@@ -29,6 +29,7 @@ class DoubtLook:
 
     def __init__(self, look, strangers):
         self.look = look
+        self.runners = look.all_runners()
         self.flows = FlowLook(look)
         self.table = RowTable([])
         self.stands = known_stands(look, strangers, self.table)
@@ -48,7 +49,7 @@ class DoubtLook:
 
     def doubt_behind(self, number, name):
         """The doubt of a name behind a number at which no stranger ran."""
-        places = self.look.runners[number - 1]
+        places = self.runners[number - 1]
         for place in places:
             found = self.doubt_ahead(number, self.flows.left_from[place][name], place)
             if found is not None:

@@ -7,15 +7,16 @@ from pagestrue.words import first_unrisen, is_list, is_number, is_place
 
 
 class PastLook:
-    """The cells of a page, their numbers, and for each number from 1 on who can have run there."""
+    """The cells of a page, and their numbers: who can have run when.
+
+    Nothing is listed ahead of need: what is to be refused may stand beside numbers however great.
+    """
 
     def __init__(self, forms, names, numbers):
         self.forms = forms
         self.names = names
         self.numbers = list(numbers)
         self.many = max(self.numbers, default=0)
-        self.runners = [self.who_can(number) for number in range(1, self.many + 1)]
-        self.gaps = [at for at in range(1, self.many + 1) if at not in self.numbers]
 
     def who_can(self, number):
         """The places of the cells that can have run at the number."""
@@ -23,13 +24,25 @@ class PastLook:
             return [self.numbers.index(number)]
         return [place for place, last in enumerate(self.numbers) if last > number]
 
+    def all_runners(self):
+        """For each number from 1 on the places of the cells that can have run there."""
+        return [self.who_can(number) for number in range(1, self.many + 1)]
+
+    def is_gap(self, number):
+        """Whether it is a lacking number."""
+        return 0 < number < self.many and number not in self.numbers
+
+    def gaps(self):
+        """The ascending list of the lacking numbers."""
+        return [number for number in range(1, self.many) if self.is_gap(number)]
+
     def any_beginning(self, many):
         """Some history's beginning of so many runs: the least one."""
-        return [places[0] for places in self.runners[:many]]
+        return [self.who_can(number)[0] for number in range(1, many + 1)]
 
     def any_ending(self, many):
         """Who can have run behind so many runs, up to the last one."""
-        return [places[0] for places in self.runners[many:]]
+        return [self.who_can(number)[0] for number in range(many + 1, self.many + 1)]
 
     def starting(self, table):
         """What stands ahead of the first run: each name for a part of its own."""
@@ -68,7 +81,7 @@ class PastLook:
         """Whether it is who can have run at the number."""
         if thing is None:
             return number in strangers
-        return is_place(thing, len(self.forms)) and thing in self.runners[number - 1]
+        return is_place(thing, len(self.forms)) and thing in self.who_can(number)
 
     def is_whole(self, thing, strangers):
         """Whether it is a history, strangers standing at these numbers."""
@@ -105,7 +118,7 @@ def lacking_fault(look, thing):
     """The index of the first thing of what is no ascending list of lacking numbers, or None."""
     if not is_list(thing):
         return 0
-    return first_unrisen([one if is_number(one) and one in look.gaps else None for one in thing])
+    return first_unrisen([one if is_number(one) and look.is_gap(one) else None for one in thing])
 
 
 def judged_strangers(look, strangers):
@@ -126,7 +139,7 @@ def judged_history(look, strangers, history):
 def all_histories(look):
     """The ascending list of all histories without strangers."""
     told = [[]]
-    for places in look.runners:
+    for places in look.all_runners():
         told = [beginning + [place] for beginning in told for place in places]
     return told
 

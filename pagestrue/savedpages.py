@@ -27,7 +27,7 @@ def sure_runs(page, numbers, values):
     look, seen = judged_saved(page, numbers, values)
     found = bearing_of(look, seen)
     told = {}
-    for number in look.gaps:
+    for number in look.gaps():
         places = [history[number - 1] for history in found]
         if places and places == places[:1] * len(places):
             told[number] = places[0]
@@ -63,7 +63,7 @@ def is_none_certificate(page, numbers, values, thing):
 def many_endings(look, many):
     """How many histories begin with one beginning of so many runs."""
     told = 1
-    for places in look.runners[many:]:
+    for places in look.all_runners()[many:]:
         told *= len(places)
     return told
 

@@ -14,7 +14,8 @@ def conflicts_of(look):
     """The same of a page that is judged."""
     places = look.all_places()
     read = sorted(set([name for place in places for name in look.wants[place[0]][place[1]]]))
-    return [found for found in [conflict_of(look, places, name) for name in read] if found is not None]
+    found = [conflict_of(look, places, name) for name in read]
+    return [one for one in found if one is not None]
 
 
 def conflict_of(look, places, name):
@@ -47,6 +48,6 @@ def is_straying(page, thing):
     look = WeaveLook(plain_forms(page))
     if not is_list(thing) or len(thing) != 2 or hands_fault(look.forms, thing[0]) is not None:
         return False
-    if order_fault(look, thing[0], thing[1]) is not None or len(thing[1]) == 0:
+    if order_fault(look, thing[0], thing[1]) is not None:
         return False
     return look.stray(thing[0], thing[1]) == len(thing[1]) - 1

@@ -1,6 +1,6 @@
 """Pages named anew, so that no order of whatever hands strays."""
 
-from pagestrue.cellforms import has_if, read_first
+from pagestrue.cellforms import read_first
 from pagestrue.errors import BadAnother
 from pagestrue.pages import Page
 from pagestrue.topruns import miss_of, plain_forms
@@ -13,18 +13,16 @@ def other_naming(page, another):
     if not isinstance(another, Page):
         raise BadAnother(another)
     forms = another.forms
-    if any([has_if(form) for form in forms]) or miss_of(forms, {}) is not None:
+    if miss_of(forms, {}) is not None or [words_of(form) for form in forms] != [words_of(form) for form in look.forms]:
         return False
-    if [shape_of(form) for form in forms] != [shape_of(form) for form in look.forms]:
-        return False
+    # Steps, and how many names are read, stand in the rows; so does what is named by them.
     its = WeaveLook(forms)
     return its.table.rows == look.table.rows and its.parts == look.parts
 
 
-def shape_of(form):
-    """What a cell has besides names of values: words, steps, how many names are read."""
-    return [("set", statement[2], len(statement[3])) if statement[0] == "set" else statement[:1]
-            for statement in form]
+def words_of(form):
+    """The words with which a cell's statements begin."""
+    return [statement[0] for statement in form]
 
 
 def parts_read(look):

@@ -298,6 +298,11 @@ class LotsTest(unittest.TestCase):
         page = Page([[step("x", "f")], [step("x", "f")], [step("y", "f")], [("copy", "x", "y")]])
         self.assertEqual(enough_lots(page, web, {}, {"x": 0}), [[0], [1], [2, 3]])
         self.assertEqual(needed_lots(page, web, {}, {"x": 0}), [[0, 1, 2], [0, 1, 3]])
+        page = Page([[step("y", "f")], [("copy", "x", "y")], [step("x", "f")]])
+        self.assertEqual(enough_lots(page, web, {}, {"x": 0}), [[0, 1], [2]])
+        self.assertEqual(needed_lots(page, web, {}, {"x": 0}), [[0, 2], [1, 2]])
+        page = Page([[step("x", "f")], [("copy", "x", "y")], [step("y", "f")]])
+        self.assertEqual(needed_lots(page, web, {}, {"x": 0, "y": 0}), [[0, 1], [2]])
         self.assertEqual((enough_lots(page, web, {"x": 0}, {"x": 0}), needed_lots(page, web, {"x": 0}, {"x": 0})),
                          ([[]], []))
         self.assertEqual((enough_lots(page, web, {}, {"z": 0}), needed_lots(page, web, {}, {"z": 0})), ([], [[]]))

@@ -195,6 +195,38 @@ class RingTest(unittest.TestCase):
                       [(1.0, "x", "y", False), two], None, "ring", [one, two, one], [(4, "z", "z", True)]):
             self.assertIs(is_ring(page, thing), False)
 
+    def test_long_rings(self):
+        """Rings through many names, beside links that lead nowhere."""
+        names = ["a", "b", "c", "d", "e", "g"]
+        for many in range(1, 7):
+            for seed in range(10):
+                rng = maker(seed)
+                ring = rng.sample(names, many)
+                cells = [[step(name, "f") for name in names]]
+                for source, name in zip(ring[-1:] + ring[:-1], ring):
+                    cells.append([("copy", name, source)])
+                cells[-1] = [step(ring[-1], "h", ring[-2 % many] if many > 1 else ring[0])]
+                cells += [[step(name, "g", rng.choice(names))] for name in names if name not in ring]
+                rng.shuffle(cells)
+                page = Page(cells)
+                found = ring_of(page)
+                self.check_ring(cells, found)
+                self.assertIsNone(all_stands(page))
+                without = [cell for cell in cells if cell[0][1] not in ring or len(cell) > 1]
+                self.assertEqual(ring_of(Page(without)) is not None, plain_has_ring(without))
+                again = [at for name in ring for at, cell in enumerate(cells) if len(cell) == 1 and cell[0][1] == name]
+                told = comes_round(page, [at for at, cell in enumerate(cells) if len(cell) > 1], again)
+                self.assertEqual(told[0], "grows")
+
+    def test_a_turn_that_makes_a_long_ring(self):
+        """Each name is made of the one ahead of it in the list, all of them at one turn."""
+        cells = [[step(name, "f") for name in "abcde"],
+                 [("copy", "k", "e"), step("e", "g", "d"), ("copy", "d", "c"), ("copy", "c", "b"),
+                  ("copy", "b", "a"), ("copy", "a", "k")]]
+        word, names = comes_round(Page(cells), [0], [1])
+        self.assertEqual(word, "grows")
+        self.assertIn(names, [list("abcdeabcde")[at:at + 5] for at in range(5)])
+
     def test_rings_of_copies_alone_are_none(self):
         page = Page([[step("x", "f"), step("y", "g")], [("copy", "x", "y")], [("copy", "y", "x")]])
         self.assertIsNone(ring_of(page))
@@ -316,6 +348,14 @@ class RoundTest(unittest.TestCase):
         self.assertEqual(comes_round(page, [], [0]), ("round", 1, 1))
         self.assertEqual(comes_round(page, [], []), ("round", 0, 1))
         self.assertEqual(comes_round(Page([]), [], []), ("round", 0, 1))
+
+    def test_what_runs_in_the_last_turn_alone(self):
+        """One name more stands behind each turn; only behind as many turns as names all of it runs."""
+        page = Page([[step("a", "f")], [("copy", "b", "a")], [("copy", "c", "b")], [("copy", "d", "c")],
+                     [("copy", "e", "d")], [step("a", "f", "e")]])
+        self.assertEqual(comes_round(page, [0], [5, 4, 3, 2, 1])[0], "grows")
+        self.assertEqual(comes_round(page, [0], [4, 3, 2, 1]), ("round", 4, 1))
+        self.assertEqual(comes_round(page, [0], [4, 3, 2]), ("round", 0, 1))
 
     def test_what_misses_in_the_first_turns(self):
         page = Page([[step("a", "f")], [("copy", "b", "a")], [("copy", "c", "b")], [step("a", "g", "c")]])

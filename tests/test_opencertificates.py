@@ -65,6 +65,15 @@ class CertificateTest(unittest.TestCase):
                       "given", {"given": one}, ["given", None]):
             self.assertIs(is_open_certificate(*passed, 1, thing), False)
 
+    def test_the_words(self):
+        page = Page([[step("x", "f")], [step("x", "g")], [("show", "x")]])
+        passed = (page, [1, 5, 3], [], 2, 0)
+        one, other = [0, 1, 2, 1, 1], [0, 2, 2, 1, 1]
+        self.assertIs(is_open_certificate(*passed, ("two", one, other)), True)
+        for thing in (("open", one, other), ("given", one, other), ("two", one, other, one), (None, one, other),
+                      ("two", other, other), ("TWO", one, other), (("two",), one, other)):
+            self.assertIs(is_open_certificate(*passed, thing), False)
+
     def test_a_stranger(self):
         page = Page([[step("x", "f")], [("show", "x")]])
         self.assertIsNone(open_certificate(page, [1, 3], [], 1, 0))

@@ -2,10 +2,14 @@
 
 import unittest
 
-from pagestrue.errors import BadNumbers
+from pagestrue.errors import BadAt, BadHistory, BadLot, BadNumbers, BadPlace, BadStrangers, BadValues
+from pagestrue.opencertificates import is_enough, open_certificate
 from pagestrue.pagenumbers import (histories, history_shown, is_history, is_history_with, is_numbers,
                                    lacking_numbers)
 from pagestrue.pages import Page
+from pagestrue.passes import is_pass, parts_by, pass_of, words_by
+from pagestrue.savedpages import saved
+from pagestrue.savedvalues import bears
 from tests.pasts import never, some_pasts
 from tests.plain import plain_run, term_of
 
@@ -42,6 +46,33 @@ class NumbersTest(unittest.TestCase):
             self.assertEqual(told, {number: [place for place, its in enumerate(past.numbers) if its > number]
                                     for number in past.gaps})
             self.assertEqual(list(told), sorted(told))
+
+
+class WhateverNumbersTest(unittest.TestCase):
+    """What is refused is refused beside numbers however great."""
+
+    def test_refused(self):
+        page = Page([[step("x", "f"), ("show", "x")], []])
+        numbers = [10 ** 5000, 3]
+        for strangers, index in ((None, 0), ([3], 0), ([1, 10 ** 5000], 1), ([4, 2], 1), ([10 ** 4999, 0], 1)):
+            for function in (pass_of, parts_by, words_by):
+                with self.assertRaises(BadStrangers) as caught:
+                    function(page, numbers, strangers)
+                self.assertEqual(caught.exception.index, index)
+        with self.assertRaises(BadHistory):
+            history_shown(page, numbers, [1, 2, 10 ** 4000], [0, 1, 1])
+        with self.assertRaises(BadPlace):
+            open_certificate(page, numbers, [], 2, 0)
+        with self.assertRaises(BadAt):
+            open_certificate(page, numbers, [], 0, 1)
+        with self.assertRaises(BadLot):
+            is_enough(page, numbers, [3])
+        with self.assertRaises(BadValues):
+            saved(page, numbers, [[], []])
+        with self.assertRaises(BadHistory):
+            bears(page, numbers, [[5], []], [0, 1])
+        self.assertIs(is_history(page, numbers, [0, 1, 1]), False)
+        self.assertIs(is_pass(page, numbers, [2], ([], [{"x": None}])), False)
 
 
 class HistoriesTest(unittest.TestCase):
