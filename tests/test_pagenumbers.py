@@ -75,6 +75,20 @@ class WhateverNumbersTest(unittest.TestCase):
         self.assertIs(is_pass(page, numbers, [2], ([], [{"x": None}])), False)
 
 
+class StrangersTest(unittest.TestCase):
+    def test_lacking_numbers_alone(self):
+        """Where each cell was run 0 lacks, too, but is no lacking number; nor is any behind the last one."""
+        page = Page([[step("x", "f")], [("show", "x")]])
+        self.assertIs(is_history_with(page, [1, 4], [2, 3], [0, None, 1, 1]), True)
+        for strangers, index in (([0], 0), ([2, 4], 1), ([5], 0), ([1], 0), ([2, 3, 5], 2), ([3, 2], 1)):
+            with self.assertRaises(BadStrangers) as caught:
+                is_history_with(page, [1, 4], strangers, [0, 1, 1, 1])
+            self.assertEqual(caught.exception.index, index)
+            with self.assertRaises(BadLot) as caught:
+                is_enough(page, [1, 4], strangers)
+            self.assertEqual(caught.exception.index, index)
+
+
 class HistoriesTest(unittest.TestCase):
     def test_all_of_them(self):
         for past in some_pasts(120, most_strangers=2):
