@@ -27,7 +27,7 @@ class AskLook:
 
     def shown_sources(self, number):
         """The names, ahead of the number, of which what counts as shown there is made."""
-        return [name for place in self.runners[number - 1] if self.look.numbers[place] == number
+        return [name for place in self.runners[number - 1] if self.look.lasts[place] == number
                 for names in self.flows.shown_from[place] for name in names]
 
     def live_names(self):

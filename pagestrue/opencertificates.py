@@ -10,7 +10,7 @@ from pagestrue.words import is_list, is_place
 
 def judged_thing(look, place, at):
     """Refuse what is no thing that a cell's last run shows."""
-    if not is_place(place, len(look.forms)) or look.numbers[place] == 0:
+    if not is_place(place, len(look.forms)) or look.lasts[place] == 0:
         raise BadPlace(place)
     if not is_place(at, len([one for one in look.forms[place] if one[0] == "show"])):
         raise BadAt(at)

@@ -39,6 +39,6 @@ def known_shown(look, strangers, table):
     """For each cell None, or the list of what it is known to show, None for what is not known."""
     stands = known_stands(look, strangers, table)
     told = []
-    for form, number in zip(look.forms, look.numbers):
+    for form, number in zip(look.forms, look.lasts):
         told.append(known_run(table, stands[number - 1], form)[1] if number > 0 else None)
     return told

@@ -32,7 +32,7 @@ class DoubtLook:
         self.runners = look.all_runners()
         self.flows = FlowLook(look)
         self.table = RowTable([])
-        self.stands = known_stands(look, strangers, self.table)
+        self.known_behind = known_stands(look, strangers, self.table)
         self.doubts = [{name: [[]] for name in look.names}]
         for number in range(1, look.many + 1):
             self.doubts.append(self.doubts_behind(number, number in strangers))
@@ -43,7 +43,7 @@ class DoubtLook:
         for name in self.look.names:
             if has_stranger:
                 told[name] = [self.look.any_beginning(number - 1) + [None]]
-            elif self.stands[number][name] is None:
+            elif self.known_behind[number][name] is None:
                 told[name] = self.doubt_behind(number, name)
         return told
 
@@ -69,11 +69,11 @@ class DoubtLook:
 
     def known_part(self, number, place, name):
         """The part that the name is known to have behind a run of the cell at the number."""
-        return known_run(self.table, self.stands[number - 1], self.look.forms[place])[0][name]
+        return known_run(self.table, self.known_behind[number - 1], self.look.forms[place])[0][name]
 
     def certificate(self, place, at):
         """Why the thing that the cell shows is not sure, None if it is."""
-        number = self.look.numbers[place]
+        number = self.look.lasts[place]
         found = self.doubt_ahead(number, self.flows.shown_from[place][at], place)
         if found is None:
             return None

@@ -15,14 +15,14 @@ class PastLook:
     def __init__(self, forms, names, numbers):
         self.forms = forms
         self.names = names
-        self.numbers = list(numbers)
-        self.many = max(self.numbers, default=0)
+        self.lasts = list(numbers)
+        self.many = max(self.lasts, default=0)
 
     def who_can(self, number):
         """The places of the cells that can have run at the number."""
-        if number in self.numbers:
-            return [self.numbers.index(number)]
-        return [place for place, last in enumerate(self.numbers) if last > number]
+        if number in self.lasts:
+            return [self.lasts.index(number)]
+        return [place for place, last in enumerate(self.lasts) if last > number]
 
     def all_runners(self):
         """For each number from 1 on the places of the cells that can have run there."""
@@ -30,7 +30,7 @@ class PastLook:
 
     def is_gap(self, number):
         """Whether it is a lacking number."""
-        return 0 < number < self.many and number not in self.numbers
+        return 0 < number < self.many and number not in self.lasts
 
     def gaps(self):
         """The ascending list of the lacking numbers."""
@@ -67,7 +67,7 @@ class PastLook:
         shown = [None] * len(self.forms)
         for at, place in enumerate(history):
             stand, told = self.run_at(table, stand, at + 1, place)
-            if place is not None and self.numbers[place] == at + 1:
+            if place is not None and self.lasts[place] == at + 1:
                 shown[place] = told
         return (stand, shown)
 

@@ -102,4 +102,4 @@ def judged_values(look, values):
 def are_values(look, place, thing):
     """Whether it is a list with a number for each thing that the cell's last run shows."""
     shows = [one for one in look.forms[place] if one[0] == "show"]
-    return are_numbers(thing) and len(thing) == (len(shows) if look.numbers[place] > 0 else 0)
+    return are_numbers(thing) and len(thing) == (len(shows) if look.lasts[place] > 0 else 0)
