@@ -7,17 +7,17 @@ from pagestrue.words import is_list, is_name, is_place
 
 def stop_lot(page):
     """All owners behind rows of runs that may stop, or the first row that ends untrue."""
-    return lot_or_row(sound_forms(page), True)
+    return lot_or_row(TopLook(sound_forms(page)), True)
 
 
 def whole_lot(page):
     """All owners behind rows of whole runs, or the first row that ends untrue."""
-    return lot_or_row(sound_forms(page), False)
+    return lot_or_row(TopLook(sound_forms(page)), False)
 
 
-def lot_or_row(forms, may_stop):
-    """The closed lot of the cells, or the row."""
-    known, row = closed_walk(TopLook(forms), {}, may_stop, None)
+def lot_or_row(look, may_stop):
+    """The closed lot of the cells that are looked at, or the row."""
+    known, row = closed_walk(look, {}, may_stop, None)
     if row is not None:
         return ("row", row)
     return ("closed", [dict(pairs) for pairs in sorted(known)])
@@ -25,17 +25,16 @@ def lot_or_row(forms, may_stop):
 
 def is_stop_lot(page, thing):
     """Whether it is a closed lot of owners, for runs that may stop."""
-    return is_closed_lot(sound_forms(page), thing, True)
+    return closed_by(TopLook(sound_forms(page)), thing, True)
 
 
 def is_whole_lot(page, thing):
     """Whether it is a closed lot of owners, for whole runs."""
-    return is_closed_lot(sound_forms(page), thing, False)
+    return closed_by(TopLook(sound_forms(page)), thing, False)
 
 
-def is_closed_lot(forms, thing, may_stop):
+def closed_by(look, thing, may_stop):
     """Whether all runs on each of the owners are true and lead to some of them."""
-    look = TopLook(forms)
     if not is_list(thing) or not all([are_owners(look, one) for one in thing]):
         return False
     known = {pairs_of(one): True for one in thing}
@@ -43,7 +42,7 @@ def is_closed_lot(forms, thing, may_stop):
         return False
     for pairs in known:
         owners = dict(pairs)
-        for place in range(len(forms)):
+        for place in range(len(look.forms)):
             if may_stop or not look.misses(place, owners):
                 if look.untrue(place, owners) is not None:
                     return False
