@@ -6,11 +6,11 @@ import unittest
 from pagestrue import errors, refusals
 from pagestrue.pages import Page
 from tests.making import Strange, as_lists, as_tuples, strange_things
-from tests import samples, samples_more
+from tests import samples, samples_last, samples_more
 
-SAMPLES = samples.SAMPLES + samples_more.SAMPLES_MORE
+SAMPLES = samples.SAMPLES + samples_more.SAMPLES_MORE + samples_last.SAMPLES_LAST
 CALLS = [(function, passed) for function, passed, _ in SAMPLES]
-CALLS += samples.NOTHING_RUN + samples_more.NOTHING_MORE
+CALLS += samples.NOTHING_RUN + samples_more.NOTHING_MORE + samples_last.NOTHING_LAST
 
 
 def same_kind(thing, other):

@@ -5,6 +5,8 @@ import builtins
 import unittest
 from pathlib import Path
 
+from tests.interface import names_by_file
+
 PACKAGE = Path(__file__).resolve().parent.parent / "pagestrue"
 MOST_LINES, MOST_OF_ONE, MOST_SIGNS = 399, 40, 120
 ALLOWED = {"len", "range", "enumerate", "zip", "min", "max", "sum", "abs", "sorted", "reversed", "int",
@@ -13,54 +15,13 @@ ALLOWED = {"len", "range", "enumerate", "zip", "min", "max", "sum", "abs", "sort
 METHODS = {"append", "clear", "copy", "count", "endswith", "extend", "find", "get", "index", "insert",
            "isalnum", "isalpha", "isdigit", "items", "join", "keys", "pop", "remove", "replace",
            "reverse", "rfind", "rpartition", "partition", "setdefault", "split", "startswith", "strip",
-           "update", "values", "__init__"}
+           "update", "values", "ljust", "__init__"}
 LIBRARY = {"itertools": {"combinations", "permutations", "product", "chain"}, "math": {"gcd", "comb"}}
 BARRED = {"type", "typing", "enum", "Enum", "Flag", "Generic", "Protocol", "ABC", "namedtuple", "register",
           "elements", "open", "input", "law", "mro", "dataclass", "overload", "contextmanager"}
 NODES = (ast.GeneratorExp, ast.Yield, ast.YieldFrom, ast.Global, ast.Nonlocal, ast.Try,
          ast.With, ast.AsyncFunctionDef, ast.Await, ast.NamedExpr, ast.JoinedStr, ast.Starred, ast.Assert,
          ast.Delete, ast.Div, ast.Pow, ast.AnnAssign, ast.Match)
-INTERFACE = {
-    "pages": "Page is_cell names_of renamed",
-    "pagetexts": "page_text read_page page_fault whole_text",
-    "cellnames": "sets_of reads_of nest_of free_of joined_cells",
-    "cellmatters": "matters mattering",
-    "runs": "is_stand ran",
-    "rowsofruns": "played stand_behind hangs_on leavers",
-    "tops": "first_miss top needs top_behind",
-    "webs": "web_fault is_web put_row joined_webs same_part",
-    "webparts": "needs_of thinned_web steps_in tests_in depth_of tree_of decided",
-    "meanings": "is_meaning meaning_fault free_meaning choice_lists",
-    "alikeparts": "are_alike parting_meaning alike_parts",
-    "casetrees": "case_tree is_case_tree",
-    "alikepages": "pages_part",
-    "misleading": "on_top untrue_at untrue_meaning is_misleading",
-    "twobehind": "untrue_pair untrue_row safe_names",
-    "leastuntrue": "first_untrue left_out",
-    "namesparted": "needs_by clashes is_parting parted fewest_names least_parting",
-    "stops": "went went_along standing_lots can_stop",
-    "ownerlots": "stop_lot is_stop_lot whole_lot is_whole_lot",
-    "liveparts": "live_statements live_page fewest_cells",
-    "comings": "can_run can_stand makes is_ring ring_of",
-    "allstands": "all_stands is_closed",
-    "rounds": "comes_round",
-    "againviews": "views_along",
-    "againrows": "come_again is_again fewest_runs first_loss",
-    "nevers": "lacking is_never",
-    "againlots": "enough_lots needed_lots",
-    "pagenumbers": "is_numbers lacking_numbers is_history histories is_history_with history_shown",
-    "passes": "pass_of is_pass parts_by words_by",
-    "opencertificates": "open_certificate is_open_certificate is_enough fewest_asked",
-    "savedvalues": "bears value_clash",
-    "savedpages": "bearing sure_runs saved is_none_certificate",
-    "savedwords": "fewest_doubts saved_words",
-    "weaves": "woven strays stands_behind",
-    "steadiness": "conflicts straying is_straying",
-    "steadynames": "other_naming steady_naming steady_names",
-    "weavecounts": "woven_counts kth_order",
-    "fences": "keeps_fences fenced_counts least_fences",
-    "keepplans": "plan_fault plan_price",
-}
 
 
 def files():
@@ -93,11 +54,8 @@ class LanguageTest(unittest.TestCase):
             self.assertLessEqual(max(map(len, lines)), MOST_SIGNS, path)
 
     def test_interface(self):
-        for name, words in INTERFACE.items():
-            self.assertLessEqual(set(words.split()), defined(tree_of(PACKAGE / (name + ".py"))), name)
-        page = next(node for node in tree_of(PACKAGE / "pages.py").body if isinstance(node, ast.ClassDef))
-        self.assertLessEqual({"__init__", "cells", "__eq__"}, {node.name for node in page.body
-                                                               if isinstance(node, ast.FunctionDef)})
+        for name, words in names_by_file().items():
+            self.assertLessEqual(set(words), defined(tree_of(PACKAGE / (name + ".py"))), name)
 
     def test_module_level(self):
         for path, tree in self.each():
