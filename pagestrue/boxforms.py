@@ -36,7 +36,7 @@ def standing_form(rows, thing):
     if not is_list(thing):
         return None
     pairs = [pair_form(rows, one) for one in thing]
-    if None in pairs or first_unrisen(pairs) is not None:
+    if first_unrisen(pairs) is not None:
         return None
     names = [name for pair in pairs for name in pair[0]]
     return tuple(pairs) if len(set(names)) == len(names) else None

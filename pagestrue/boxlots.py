@@ -16,9 +16,7 @@ def box_row(boxpage):
 def is_box_row(boxpage, thing):
     """Whether it is a row of runs behind the top of which just the last one misleads."""
     look = sound_boxes(boxpage)
-    if not are_runs(look.forms, thing) or len(thing) == 0:
-        return False
-    return look.misled_at(look.last, thing) == len(thing) - 1
+    return are_runs(look.forms, thing) and look.misled_at(look.last, thing) == len(thing) - 1
 
 
 def box_lot(boxpage):

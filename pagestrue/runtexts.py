@@ -49,9 +49,9 @@ class RunsScan(SignScan):
 
     def may_end(self, sign):
         """Whether a blank or the line feed may stand here."""
-        if self.is_ended or sign not in (" ", "\n"):
-            return False
-        return self.piece != "" or (sign == "\n" and not self.has_place)
+        if self.piece == "":
+            return sign == "\n" and not self.has_place
+        return sign in (" ", "\n")
 
     def close(self, sign):
         """Take the place, or the end of the line."""

@@ -4,7 +4,7 @@ from pagestrue.refusals import BadStandText
 from pagestrue.runs import judged_stand
 from pagestrue.signscans import Beginnings, SignScan, can_be_above, scan_fault, whole_lines
 from pagestrue.webforms import is_part, judged_web
-from pagestrue.words import begins_name, is_name
+from pagestrue.words import begins_name
 
 
 def stand_text(web, stand):
@@ -46,7 +46,7 @@ class StandScan(SignScan):
         """Whether the name ends with a blank here, or the part with the line feed."""
         if self.is_named:
             return sign == "\n" and self.piece in self.part_words
-        return sign == " " and is_name(self.piece) and self.piece > self.last_name
+        return sign == " " and self.piece > self.last_name
 
     def close(self, sign):
         """Take the name or the part."""

@@ -78,7 +78,7 @@ class ViewsScan(SignScan):
             return sign == "\n" and self.piece != ""
         if sign == "\n":
             return self.piece == "" and not self.is_line_begun
-        return sign == "=" and is_name(self.piece) and self.piece > self.last_name
+        return sign == "=" and self.piece > self.last_name
 
     def close(self, sign):
         """Take the name, the part, or the end of the line."""

@@ -83,11 +83,9 @@ class WebScan(SignScan):
             return True
         if at == 1 and word != "either":
             return is_name(self.piece)
-        # Who could come as an index begins rightly already.
-        index = int(self.piece)
-        if index >= len(self.table.rows):
-            return False
-        return (self.table.rows[index][0] == "asked") == (word == "either" and at == 1)
+        # Some row's index begins with the piece, so there is a row of this index, too.
+        row = self.table.rows[int(self.piece)]
+        return (row[0] == "asked") == (word == "either" and at == 1)
 
     def close(self, sign):
         """Take the word, and the row at the end of the line."""
@@ -105,7 +103,7 @@ class WebScan(SignScan):
         texts.count_in(str(self.table.put_in(row)))
         if words[0] == "given":
             self.given_texts.count_in(words[1])
-        if words[0] == "asked" and len(words) == 2:
+        if not self.has_part():
             self.bare_tests.count_in(words[1])
 
     def is_all(self):

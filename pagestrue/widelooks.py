@@ -58,7 +58,7 @@ class WideRun:
                 return None
             return self.table.put_in(("made", statement[2], worths))
         function = self.found(statement[2], scope)
-        if function is None or not is_function(function) or len(function[0]) != len(worths):
+        if not is_function(function) or len(function[0]) != len(worths):
             return None
         return None if function in active else self.come_to(function, worths, active + (function,))
 

@@ -34,48 +34,58 @@ MADE = {"web": MADE_WEB, "wanted": [3, 1, 3]}
 MADE_REFUSED = {
     "web": just(r.BadPlainWeb, [None, "made", {}, [("made", "f", ()), ("given", 0)], [("made", "f", (0,))], WEB,
                                 [("made", "f", ()), ("made", "f", ())], [("asked", "t", ())], [Strange()]], "web"),
-    "wanted": at_index(r.BadWanted, [(None, 0), ("0", 0), ({}, 0), ([5], 0), ([0, True], 1), ([1, 1, -1], 2), ([1.0], 0),
+    "wanted": at_index(r.BadWanted, [(None, 0), ("0", 0), ({}, 0), ([5], 0), ([0, True], 1), ([1, 1, -1], 2),
+                                     ([1.0], 0),
                                      ([0, [0]], 1), ([HUGE], 0), ([Strange()], 0)])}
 SCRIPT = ([step("a", "f"), step("b", "g", "a"), ("copy", "c", "a"), step("a", "h", "a", "c"), step("c", "k", "b", "a")],
           ["c", "b", "c"])
-NO_SCRIPTS = [None, (), "script", ([], []), (SCRIPT[0], ["c", "b"]), (SCRIPT[0], ["c", "a", "c"]), (SCRIPT[0][1:], SCRIPT[1]),
+NO_SCRIPTS = [None, (), "script", ([], []), (SCRIPT[0], ["c", "b"]), (SCRIPT[0], ["c", "a", "c"]),
+              (SCRIPT[0][1:], SCRIPT[1]),
               (SCRIPT[0] + [("show", "c")], SCRIPT[1]), (*SCRIPT, 0), Strange()]
 HANDS_REFUSED = just(r.BadHandCount, [None, 0, -1, True, "2", 2.0, [2], Strange()], "hands")
 LOTS = [[0], [1, 2], [3]]
 
 ORDER_PAGE = Page([[step("x", "f")], [("show", "x")], [step("y", "g", "x")], [step("x", "f")]])
-ORDER_REFUSED = at_index(e.BadOrder, [(None, 0), ("0123", 0), ({}, 0), ([0, 1, 2], 4), ([0, 0], 1), ([4], 0), ([0, True], 1),
+ORDER_REFUSED = at_index(e.BadOrder, [(None, 0), ("0123", 0), ({}, 0), ([0, 1, 2], 4), ([0, 0], 1), ([4], 0),
+                                      ([0, True], 1),
                                       ([0, 1, 2, 3, 3], 4), ([2.0], 0), ([HUGE], 0), ([0, -1], 1), ([1, "0"], 1)])
 PAIR_REFUSED = [(thing, r.BadPair, {"one": thing, "other": 1}) for thing in (None, 4, -1, True, "0", 0.0, HUGE)]
 OTHERS_REFUSED = [(thing, r.BadPair, {"one": 0, "other": thing}) for thing in (None, 4, -1, True, "1", 1.0, HUGE)]
 
 TELL = ("tell", "g", ["p"], [("set", "q", "f", ["p", "a"]), ("call", "q", "h", ["q"])], "q")
-WIDE = WidePage([[step("a", "k"), ("tell", "h", ["p"], [("copy", "q", "p")], "q")], [TELL, ("call", "b", "g", ["a"]), ("show", "b")],
+WIDE = WidePage([[step("a", "k"), ("tell", "h", ["p"], [("copy", "q", "p")], "q")],
+                 [TELL, ("call", "b", "g", ["a"]), ("show", "b")],
                  [("call", "a", "h", ["b"])]])
-TRUE_WIDE = WidePage([[step("a", "k"), TELL], [("tell", "h", ["p"], [], "p"), ("call", "b", "g", ["a"]), ("show", "b")]])
+TRUE_WIDE = WidePage([[step("a", "k"), TELL], [("tell", "h", ["p"], [], "p"), ("call", "b", "g", ["a"]),
+                                               ("show", "b")]])
 WIDE_STAND = {"h": (["p"], [("copy", "q", "p")], "q"), "b": 3, "a": 0}
 WIDE_REFUSED = just(r.BadWide, [None, [], Page([]), "wide", 0], "wide")
 SOUND_WIDE_REFUSED = WIDE_REFUSED + [(WidePage([[], [("call", "x", "g", [])]]), e.Unsound, {"index": 1})]
 WIDE_LOT = [{}, {"a": 0, "g": 0}, {"b": 1, "a": 0, "g": 0, "h": 1}, {"h": 1}, {"h": 1, "a": 0, "g": 0}]
 
-BOXES = BoxPage([[step("x", "e")], [("copy", "y", "x")], [("change", "y", "f", ["x"]), ("show", "x"), step("x", "e"), ("copy", "y", "x")]])
+BOXES = BoxPage([[step("x", "e")], [("copy", "y", "x")], [("change", "y", "f", ["x"]), ("show", "x"), step("x", "e"),
+                                                          ("copy", "y", "x")]])
 TRUE_BOXES = BoxPage([[step("x", "e"), ("copy", "y", "x")],
                       [("change", "y", "f", ["x"]), ("show", "x"), step("x", "e"), ("copy", "y", "x")]])
 STANDING = [(["a", "c"], 3), (["b"], 0)]
 BOXES_REFUSED = just(r.BadBoxPage, [None, [], Page([]), "boxes", 0], "boxpage")
 SOUND_BOXES_REFUSED = BOXES_REFUSED + [(BoxPage([[], [("change", "x", "f", [])]]), r.UnsoundBoxes, {"index": 1})]
-STANDING_REFUSED = just(r.BadStanding, [None, {}, "", [None], [("a", 0)], [([], 0)], [(["b", "a"], 0)], [(["a"], 2)], [(["a"], 10)],
-                                        [(["a"], True)], [(["a"], 0), (["a"], 1)], [(["b"], 0), (["a"], 0)], [Strange()]], "standing")
+STANDING_REFUSED = just(r.BadStanding, [None, {}, "", [None], [("a", 0)], [([], 0)], [(["b", "a"], 0)], [(["a"], 2)],
+                                        [(["a"], 10)],
+                                        [(["a"], True)], [(["a"], 0), (["a"], 1)], [(["b"], 0), (["a"], 0)],
+                                        [Strange()]], "standing")
 
 EDITED = Page([PLAIN_CELLS[0], [step("y", "k", "x"), ("show", "y")], PLAIN_CELLS[2]])
-OTHER_REFUSED = just(r.BadOtherPage, [None, PLAIN_CELLS, Page(PLAIN_CELLS[:2]), Page([PLAIN_CELLS[1]] * 3), "page", 0], "other")
+OTHER_REFUSED = just(r.BadOtherPage, [None, PLAIN_CELLS, Page(PLAIN_CELLS[:2]), Page([PLAIN_CELLS[1]] * 3), "page",
+                                      0], "other")
 FRESH = {"page": PLAIN, "runs": [0, 2, 1]}
 FRESH_REFUSED = {"page": SOUND_REFUSED, "runs": RUNS_REFUSED}
 
 
 def text_refused(error, passed):
     """The error with the line and the sign that each thing has beside it."""
-    return [(thing, error, {"line": line, "sign": sign}) for thing, line, sign in [(None, 0, 0), (b"", 0, 0), (["\n"], 0, 0), *passed]]
+    return [(thing, error, {"line": line, "sign": sign}) for thing, line,
+            sign in [(None, 0, 0), (b"", 0, 0), (["\n"], 0, 0), *passed]]
 
 
 MANY_REFUSED = just(r.BadMany, [None, -1, True, "3", 3.0, [3], Strange()], "many")
@@ -87,34 +97,41 @@ VIEWS = [[], [("x", -1)], [("x", 0), ("y", 2)]]
 SAMPLES_LAST = [
     (flow_fault, {**KEEP, "thing": [(2, [4, 0]), (1, [2, 1])]}, {**KEEP_REFUSED, "thing": ANYTHING}),
     (flow_sum, {"flow": [(2, [4, 0]), (1, [2, 1])]}, {
-        "flow": just(r.BadFlow, [None, "", {}, [None], [(0, [])], [(True, [])], [(1, "2")], [(1,)], [(1, []), (-1, [])]], "flow")}),
+        "flow": just(r.BadFlow, [None, "", {}, [None], [(0, [])], [(True, [])], [(1, "2")], [(1,)],
+                                 [(1, []), (-1, [])]], "flow")}),
     (least_keeping, KEEP, KEEP_REFUSED),
-    (shelf_worth, {**KEEP, "index": 1}, {**KEEP_REFUSED, "index": just(r.BadIndex, [None, 5, -1, True, "0", 0.0, HUGE], "index")}),
-    (fewest_at_hand, {**KEEP, "price": 3}, {**KEEP_REFUSED, "price": just(r.BadPrice, [None, -1, True, "3", 3.0, [3]], "price")}),
+    (shelf_worth, {**KEEP, "index": 1}, {**KEEP_REFUSED, "index": just(r.BadIndex,
+                                                                       [None, 5, -1, True, "0", 0.0, HUGE], "index")}),
+    (fewest_at_hand, {**KEEP, "price": 3}, {**KEEP_REFUSED, "price": just(r.BadPrice, [None, -1, True, "3", 3.0, [3]],
+                                                                          "price")}),
     (needed_rows, MADE, MADE_REFUSED),
     (is_script, {**MADE, "thing": SCRIPT}, {**MADE_REFUSED, "thing": ANYTHING}),
     (script_steps, {**MADE, "script": SCRIPT}, {**MADE_REFUSED, "script": just(r.BadScript, NO_SCRIPTS, "script")}),
     (least_script, MADE, MADE_REFUSED),
     (fewest_steps, MADE, MADE_REFUSED),
-    (is_plan, {**MADE, "hands": 2, "thing": [[0], [1, 2], [3]]}, {**MADE_REFUSED, "hands": HANDS_REFUSED, "thing": ANYTHING}),
+    (is_plan, {**MADE, "hands": 2, "thing": [[0], [1, 2], [3]]},
+     {**MADE_REFUSED, "hands": HANDS_REFUSED, "thing": ANYTHING}),
     (depth_plan, MADE, MADE_REFUSED),
     (two_plan, MADE, MADE_REFUSED),
     (two_rounds, MADE, MADE_REFUSED),
     (is_lots, {**MADE, "thing": LOTS}, {**MADE_REFUSED, "thing": ANYTHING}),
     (lots_bound, {**MADE, "lots": LOTS}, {
-        **MADE_REFUSED, "lots": just(r.BadLots, [None, "", {}, [[]], [[4]], [[1], [2]], [[1, 0]], [0], [Strange()]], "lots")}),
+        **MADE_REFUSED, "lots": just(r.BadLots, [None, "", {}, [[]], [[4]], [[1], [2]], [[1, 0]], [0], [Strange()]],
+                                     "lots")}),
     (lots_certificate, MADE, MADE_REFUSED),
     (breaks_at, {"page": ORDER_PAGE, "order": [3, 1, 0, 2]}, {"page": PLAIN_REFUSED, "order": ORDER_REFUSED}),
     (orders_count, {"page": ORDER_PAGE}, {"page": PLAIN_REFUSED}),
     (good_order, {"page": ORDER_PAGE, "k": 11}, {
         "page": PLAIN_REFUSED, "k": just(r.BadK, [None, 12, -1, True, "0", 0.0, HUGE, [0]], "k")}),
     (always_ahead, {"page": PLAIN}, {"page": PLAIN_REFUSED}),
-    (turned_order, {"page": ORDER_PAGE, "one": 0, "other": 1}, {"page": PLAIN_REFUSED, "one": PAIR_REFUSED, "other": OTHERS_REFUSED}),
+    (turned_order, {"page": ORDER_PAGE, "one": 0, "other": 1},
+     {"page": PLAIN_REFUSED, "one": PAIR_REFUSED, "other": OTHERS_REFUSED}),
     (move_lets, {"page": ORDER_PAGE, "place": 3}, {
         "page": PLAIN_REFUSED, "place": just(e.BadPlace, [None, 4, -1, True, "0", 0.0, [0], Strange()], "place")}),
     (fewest_moves, {"page": ORDER_PAGE, "order": [3, 1, 0, 2]}, {"page": PLAIN_REFUSED, "order": ORDER_REFUSED}),
     (is_wide_cell, {"thing": [TELL, ("call", "x", "g", ["a"])]}, {"thing": ANYTHING}),
-    (wide_ran, {"web": WEB, "stand": WIDE_STAND, "cell": [TELL, ("call", "x", "g", ["b"]), ("show", "x"), ("copy", "y", "h")]}, {
+    (wide_ran, {"web": WEB, "stand": WIDE_STAND, "cell": [TELL, ("call", "x", "g", ["b"]), ("show", "x"),
+                                                          ("copy", "y", "h")]}, {
         "web": WEB_REFUSED,
         "stand": just(r.BadWideStand, NO_STANDS + [{"a": ([], [])}, {"a": (["p", "p"], [], "p")}, {"a": ()}], "stand"),
         "cell": just(r.BadWideCell, [None, "set", 3, [("if", "t", [], [], [])], [("call", "x", "g")]], "cell")}),
@@ -124,14 +141,16 @@ SAMPLES_LAST = [
     (is_wide_lot, {"wide": TRUE_WIDE, "thing": WIDE_LOT}, {"wide": SOUND_WIDE_REFUSED, "thing": ANYTHING}),
     (looked_up, {"wide": WIDE, "place": 1}, {"wide": SOUND_WIDE_REFUSED, "place": PLACE_REFUSED}),
     (sure_names, {"wide": WIDE}, {"wide": SOUND_WIDE_REFUSED}),
-    (box_run, {"web": WEB, "standing": STANDING, "boxcell": [("change", "c", "f", ["b"]), ("copy", "d", "a"), ("show", "d")]}, {
+    (box_run, {"web": WEB, "standing": STANDING, "boxcell": [("change", "c", "f", ["b"]), ("copy", "d", "a"),
+                                                             ("show", "d")]}, {
         "web": WEB_REFUSED, "standing": STANDING_REFUSED,
         "boxcell": just(r.BadBoxCell, [None, "set", 3, [("if", "t", [], [], [])], [("change", "x", "f")]], "boxcell")}),
     (box_top, {"boxpage": BOXES}, {"boxpage": SOUND_BOXES_REFUSED}),
     (box_row, {"boxpage": BOXES}, {"boxpage": SOUND_BOXES_REFUSED}),
     (is_box_row, {"boxpage": BOXES, "thing": [0, 2]}, {"boxpage": SOUND_BOXES_REFUSED, "thing": ANYTHING}),
     (box_lot, {"boxpage": TRUE_BOXES}, {"boxpage": SOUND_BOXES_REFUSED}),
-    (is_box_lot, {"boxpage": TRUE_BOXES, "thing": [[], [(["x", "y"], 0)]]}, {"boxpage": SOUND_BOXES_REFUSED, "thing": ANYTHING}),
+    (is_box_lot, {"boxpage": TRUE_BOXES, "thing": [[], [(["x", "y"], 0)]]},
+     {"boxpage": SOUND_BOXES_REFUSED, "thing": ANYTHING}),
     (shared, {"boxpage": TRUE_BOXES}, {"boxpage": SOUND_BOXES_REFUSED + [(BOXES, r.Misleads, {})]}),
     (marks, FRESH, FRESH_REFUSED),
     (stale_at, FRESH, FRESH_REFUSED),
@@ -153,12 +172,14 @@ SAMPLES_LAST = [
         "many": MANY_REFUSED, "text": text_refused(r.BadRunsText, [("0 3", 1, 3), ("", 1, 1)])}),
     (runs_text_fault, {"many": 3, "text": "0 2\n1"}, {"many": MANY_REFUSED, "text": ANYTHING}),
     (meaning_text, {"web": WEB, "meaning": MEANING}, {
-        "web": WEB_REFUSED, "meaning": just(e.BadMeaning, [None, [], MEANING[:-1], MEANING + [0], "0", [0] * 10], "meaning")}),
+        "web": WEB_REFUSED, "meaning": just(e.BadMeaning, [None, [], MEANING[:-1], MEANING + [0], "0", [0] * 10],
+                                            "meaning")}),
     (read_meaning, {"web": WEB, "text": meaning_text(WEB, MEANING)}, {
         "web": WEB_REFUSED, "text": text_refused(r.BadMeaningText, [("0 0 no 1", 1, 8), ("0 0 yes 0", 1, 10)])}),
     (meaning_text_fault, {"web": WEB, "text": "0 0 no 1"}, {"web": WEB_REFUSED, "text": ANYTHING}),
     (cases_text, {**CASES, "tree": TREE}, {
-        **CASES_REFUSED, "tree": just(r.BadTree, [None, ("like",), ("asked", 2), "like", ("asked", 0, ("like",), ("like",))], "tree")}),
+        **CASES_REFUSED, "tree": just(r.BadTree, [None, ("like",), ("asked", 2), "like",
+                                                  ("asked", 0, ("like",), ("like",))], "tree")}),
     (read_cases, {**CASES, "text": "asked 2\n. like\n. like\n"}, {
         **CASES_REFUSED, "text": text_refused(r.BadCasesText, [("like\n", 1, 1), ("asked 2\n", 2, 1)])}),
     (cases_text_fault, {**CASES, "text": "asked 2\n. like\n.. like\n"}, {**CASES_REFUSED, "text": ANYTHING}),

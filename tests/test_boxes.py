@@ -47,7 +47,8 @@ class BoxPageTest(unittest.TestCase):
             self.assertTrue(page != other)
             self.assertFalse(page == other)
         self.assertFalse(BoxPage([]) == Page([]))
-        for wrong in (None, "set", ("set",), [("if", "t", [], [], [])], [("change", "x", "f")], [("change", "X", "f", [])],
+        for wrong in (None, "set", ("set",), [("if", "t", [], [], [])], [("change", "x", "f")],
+                      [("change", "X", "f", [])],
                       [("change", "x", "f", "y")], [("change", "x", 1, [])], [("tell", "g", [], [], "x")], [Strange()],
                       [("change", "x", "f", [], 0)], [("change", "x", "f", [1])], [None]):
             with self.assertRaises(BadBoxCells) as caught:
@@ -167,7 +168,8 @@ class BoxTopTest(unittest.TestCase):
                 continue
             web, shown, left, standing = box_top(BoxPage(cells))
             tops, held = box_tops(cells)
-            self.assertEqual([([term_of(web, part) for part in one], terms_of(web, its)) for one, its in zip(shown, left)],
+            self.assertEqual([([term_of(web, part) for part in one], terms_of(web, its)) for one,
+                              its in zip(shown, left)],
                              tops)
             self.assertEqual(sorted(terms_in(web, standing)), standing_of(held))
             rows, now = [], []
@@ -297,7 +299,8 @@ class MisleadsTest(unittest.TestCase):
         self.assertIs(is_box_lot(page, lot + [[(["y"], 0)], [(["x", "zz"], 0)], [(["x"], 0), (["zz"], 0)],
                                               [(["x", "y"], 0), (["zz"], 0)], [(["x"], 0), (["y", "zz"], 0)],
                                               [(["x"], 0), (["y"], 0), (["zz"], 0)], [(["x", "y", "zz"], 0)]]), True)
-        for thing in (lot[1:], lot[:3], lot + [[(["zz"], 0)]], lot + [None], lot + [[(["x"], 1)]], lot + [[(["x"], True)]],
+        for thing in (lot[1:], lot[:3], lot + [[(["zz"], 0)]], lot + [None], lot + [[(["x"], 1)]],
+                      lot + [[(["x"], True)]],
                       lot + [[("x", 0)]], None, "", {}, lot + [Strange()], lot + [[(["y"], 0), (["x"], 0)]]):
             self.assertIs(is_box_lot(page, thing), False)
         for thing in strange_things():

@@ -214,7 +214,8 @@ class DeskTest(unittest.TestCase):
 class BackTest(unittest.TestCase):
     def test_no_cells(self):
         desk = Desk()
-        self.assertEqual((desk.tags(), desk.as_page(), desk.numbers(), desk.handed()), ([], Page([]), [], (Page([]), [])))
+        self.assertEqual((desk.tags(), desk.as_page(), desk.numbers(), desk.handed()),
+                         ([], Page([]), [], (Page([]), [])))
         self.assertEqual((desk.stands(), desk.judged(), desk.left()), (([], {}), [], {}))
         self.assertEqual((desk.undo(), desk.redo()), (None, None))
         self.assertTrue(desk == Desk())
@@ -249,7 +250,8 @@ class BackTest(unittest.TestCase):
         self.assertEqual(desk.undo(), "run")
         self.assertIsNone(desk.run(1))
         self.assertEqual(desk.redo(), "run")
-        self.assertEqual((desk.numbers(), desk.undo(), desk.undo(), desk.undo(), desk.undo()), ([1, 0], "run", "put", "put", None))
+        self.assertEqual((desk.numbers(), desk.undo(), desk.undo(), desk.undo(), desk.undo()),
+                         ([1, 0], "run", "put", "put", None))
 
     def test_redo_behind_a_new_deed(self):
         desk = Desk()
@@ -287,7 +289,8 @@ class BackTest(unittest.TestCase):
         # Its names still stand.
         self.assertEqual((desk.left(), desk.stands()[1]), ({"x": "gone", "y": "gone"}, {"x": 2, "y": 1}))
         desk.run(1)
-        self.assertEqual((desk.judged(), desk.left(), desk.numbers()), (["true", "untrue"], {"x": "gone", "y": "untrue"}, [1, 4]))
+        self.assertEqual((desk.judged(), desk.left(), desk.numbers()),
+                         (["true", "untrue"], {"x": "gone", "y": "untrue"}, [1, 4]))
         # Who left it is edited, run again, and leaves it no more: it is gone all the same.
         desk = Desk()
         desk.put(0, CELLS[0]), desk.run(0), desk.edit(0, []), desk.run(0)
@@ -320,7 +323,8 @@ class BackTest(unittest.TestCase):
             other = both.desk.copy()
             self.assertIs(type(other), Desk)
             self.assertTrue(other == both.desk)
-            before = as_tuples([other.tags(), other.numbers(), other.stands(), [other.shown(tag) for tag in other.tags()]])
+            before = as_tuples([other.tags(), other.numbers(), other.stands(),
+                                [other.shown(tag) for tag in other.tags()]])
             page = other.as_page()
             deeds = [one[0] for one in both.plain.deeds[::-1]]
             for _ in range(10):
@@ -353,7 +357,8 @@ class EqualTest(unittest.TestCase):
             self.assertFalse(base != other)
         unlike = [self.desk(), self.desk(*puts), self.desk(*puts, ("run", 0), ("run", 0)),
                   self.desk(*puts, ("run", 0), ("run", 1)), self.desk(*puts, ("run", 0), ("run", 1), ("undo",)),
-                  self.desk(*puts, ("run", 0), ("edit", 0, CELLS[0])), self.desk(*puts, ("run", 0), ("edit", 1, CELLS[2])),
+                  self.desk(*puts, ("run", 0), ("edit", 0, CELLS[0])),
+                  self.desk(*puts, ("run", 0), ("edit", 1, CELLS[2])),
                   self.desk(*puts, ("run", 0), ("move", 1, 0)), self.desk(*puts, ("run", 0), ("drop", 1)),
                   self.desk(("put", 0, CELLS[1]), ("put", 0, CELLS[0]), ("run", 1)), Page([]), None, 0, "desk"]
         for other in unlike:
@@ -370,7 +375,8 @@ class EqualTest(unittest.TestCase):
         self.assertFalse(self.desk(*base, ("run", 0), ("run", 0), ("undo",), ("undo",))
                          == self.desk(*base, ("run", 0), ("undo",)))
         # A word alike, and another state behind it.
-        self.assertFalse(self.desk(*base, ("put", 1, []), ("undo",), ("undo",)) == self.desk(("put", 0, CELLS[0]), ("undo",)))
+        self.assertFalse(self.desk(*base, ("put", 1, []), ("undo",), ("undo",)) == self.desk(("put", 0, CELLS[0]),
+                                                                                             ("undo",)))
 
 
 class WrongTest(unittest.TestCase):

@@ -106,7 +106,8 @@ class MarksTest(unittest.TestCase):
 
     def test_edges(self):
         empty = Page([])
-        self.assertEqual((marks(empty, []), stale_at(empty, []), mending(empty, []), one_more(empty, [])), ([], None, [], []))
+        self.assertEqual((marks(empty, []), stale_at(empty, []), mending(empty, []), one_more(empty, [])),
+                         ([], None, [], []))
         self.assertIs(mends(empty, [], []), True)
         page = Page([[step("x", "f")], [], [("show", "x")]])
         self.assertEqual(marks(page, []), ["none"] * 3)
@@ -126,11 +127,13 @@ class MarksTest(unittest.TestCase):
     def test_alike_by_ifs(self):
         """What is another row may be alike all the same."""
         both = [("if", "t", ["x"], [("copy", "y", "x")], [("copy", "y", "x")])]
-        cells = [[step("x", "f")], [step("z", "g", "x")], [("if", "t", ["x"], [("copy", "x", "x")], [("copy", "x", "x")])],
+        cells = [[step("x", "f")], [step("z", "g", "x")], [("if", "t", ["x"], [("copy", "x", "x")],
+                                                            [("copy", "x", "x")])],
                  both + [("show", "y")]]
         self.assertEqual(marks(Page(cells), [0, 2, 3, 2, 1, 3]), ["fresh"] * 4)
         swapped = [[step("x", "f"), step("y", "g")],
-                   [("if", "t", [], [("copy", "a", "x"), ("copy", "b", "y")], [("copy", "a", "y"), ("copy", "b", "x")])],
+                   [("if", "t", [], [("copy", "a", "x"), ("copy", "b", "y")],
+                     [("copy", "a", "y"), ("copy", "b", "x")])],
                    [("if", "t", [], [("copy", "c", "a")], [("copy", "c", "b")]), ("copy", "x", "c"), ("show", "x")]]
         # Whatever the test says, c is x: so cell 2 leaves x as it was.
         self.assertEqual(marks(Page(swapped), [0, 1, 2, 1, 2, 2]), ["fresh"] * 3)
@@ -226,7 +229,8 @@ class EditTest(unittest.TestCase):
         told = {}
         names = set()
         for name in "abcdegh":
-            run = plain_run(cells[place], {one: (one, ()) for one in "abcdegh" if one != name}, lambda test, terms: False)
+            run = plain_run(cells[place], {one: (one, ()) for one in "abcdegh" if one != name}, lambda test,
+                            terms: False)
             if run is None:
                 names.add(name)
         for at in range(place):
@@ -256,7 +260,8 @@ class EditTest(unittest.TestCase):
         cells = [[step("x", "f")], [step("y", "g", "x"), ("show", "y")], [step("x", "h", "x")]]
         page = Page(cells)
         self.assertEqual((touched(page, page), sure(page, page), anew(page, page)), ([], [0, 1, 2], []))
-        self.assertEqual((touched(Page([]), Page([])), sure(Page([]), Page([])), anew(Page([]), Page([]))), ([], [], []))
+        self.assertEqual((touched(Page([]), Page([])), sure(Page([]), Page([])), anew(Page([]), Page([]))),
+                         ([], [], []))
         # An edit that touches nothing: another text that shows and leaves the same.
         other = Page([cells[0], [("copy", "z", "x"), step("y", "g", "z"), ("show", "y")], cells[2]])
         self.assertEqual(touched(page, other), [1])

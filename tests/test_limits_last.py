@@ -102,11 +102,13 @@ class LastLimitsTest(unittest.TestCase):
         for at in range(many - 1):
             told.append(("tell", NAMES[at], ["p", "q", "r"],
                          [("call", one, NAMES[at + 1], ["p", "q", "r"]) for one in ("s", "s", "t", "p")], "p"))
-        return told + [("tell", NAMES[many - 1], ["p", "q", "r"], [step("q", "h", "p"), step("r", "h", "q", "r")] * 2, "r")]
+        return told + [("tell", NAMES[many - 1], ["p", "q", "r"], [step("q", "h", "p"), step("r", "h", "q", "r")] * 2,
+                        "r")]
 
     def test_wide_pages(self):
         cells = [self.chain(4) + [step("e", "c")]]
-        cells += [[step("e", "c")] + [("call", "e", NAMES[at], ["e", "e", "e"])] * 4 + [("show", "e")] for at in range(2)]
+        cells += [[step("e", "c")] + [("call", "e", NAMES[at], ["e", "e", "e"])] * 4 + [("show",
+                                                                                         "e")] for at in range(2)]
         cells += [self.chain(4)[::-1] + [step("e", "c"), ("show", "e")], [step("e", "c")] + self.chain(4)]
         page = WidePage(cells)
         self.timed(wide_top, page)
@@ -116,7 +118,8 @@ class LastLimitsTest(unittest.TestCase):
         self.assertIsNone(self.timed(wide_at, page, [0, 1, 2, 3, 4] * 8))
         self.timed(looked_up, page, 2)
         self.timed(sure_names, page)
-        single = [[step(name, "f")] + [("tell", other, [], [step("q", "h")], "q") for other in NAMES[:5] if other != name]
+        single = [[step(name, "f")] + [("tell", other, [], [step("q", "h")],
+                                        "q") for other in NAMES[:5] if other != name]
                   for name in NAMES[:5]]
         self.assertEqual(self.timed(wide_lot, WidePage(single))[0], "closed")
         same = [[step(name, "f"), step(NAMES[at - 1], "f"), ("copy", NAMES[at - 2], name)]
@@ -135,7 +138,8 @@ class LastLimitsTest(unittest.TestCase):
         self.assertIs(self.timed(is_box_lot, page, lot), True)
         self.assertIsNone(self.timed(box_row, page))
         self.assertEqual(len(self.timed(shared, page)), 15)
-        self.assertEqual(self.timed(box_run, [], [], anew_all + copies[0] * 30 + [("change", "a", "f", ["b"])] * 30)[2], [])
+        self.assertEqual(self.timed(box_run, [], [], anew_all + copies[0] * 30 + [("change", "a", "f",
+                                                                                   ["b"])] * 30)[2], [])
         late = BoxPage([anew_all] + copies[1:] + [[("change", "a", "f", []), ("show", "g")] + anew_all])
         row = self.timed(box_row, late)
         self.assertIs(row is None or self.timed(is_box_row, late, row), True)
@@ -147,7 +151,8 @@ class LastLimitsTest(unittest.TestCase):
         cells = [[step(name, "c" + name) for name in NAMES]]
         for at in range(4):
             x, y = NAMES[at], NAMES[at + 1]
-            cells.append([("if", TESTS[at], [x], [step(y, "f", x)], [step(y, "g", y)]), step("h", "f", "h", y), ("show", "h")])
+            cells.append([("if", TESTS[at], [x], [step(y, "f", x)], [step(y, "g", y)]), step("h", "f", "h", y),
+                          ("show", "h")])
         return cells + [[step("k", "f", "h", "k"), ("show", "k"), ("copy", "a", "e")]]
 
     def test_fresh(self):
@@ -163,7 +168,8 @@ class LastLimitsTest(unittest.TestCase):
             self.timed(touched, page, other)
             self.timed(sure, page, other)
             self.assertLessEqual(len(self.timed(anew, page, other)), 6)
-        plain = Page([[step("a", "c"), step("b", "c")]] + [[step(NAMES[at % 2], "f" + str(at), "a", "b")] for at in range(5)])
+        plain = Page([[step("a", "c"), step("b", "c")]] + [[step(NAMES[at % 2], "f" + str(at), "a",
+                                                                 "b")] for at in range(5)])
         self.assertEqual(len(self.timed(mending, plain, [0, 5, 4, 3, 2, 1] * 5)), 6)
 
     def test_desk(self):
@@ -188,7 +194,8 @@ class LastLimitsTest(unittest.TestCase):
     def test_texts(self):
         web = [("made", "f", ()), ("asked", "t", (0,))]
         for at in range(2, 2000):
-            kinds = [("made", "f", (at - 1, at - 1)), ("asked", "t", (at - 1,)), ("given", at * 1000), ("either", 1, at - 1, 0)]
+            kinds = [("made", "f", (at - 1, at - 1)), ("asked", "t", (at - 1,)), ("given", at * 1000),
+                     ("either", 1, at - 1, 0)]
             web.append(kinds[at % 4])
         text = self.timed(web_text, web)
         self.assertEqual(text.count("\n"), 2000)

@@ -71,9 +71,11 @@ class RunTextTest(Texts):
     def test_edges(self):
         self.assertEqual((runs_text(0, []), read_runs(0, "\n"), runs_text(3, (0, 2, 0))), ("\n", [], "0 2 0\n"))
         for many, text, fault in [
-                (3, "", (1, 1)), (3, "0", (1, 2)), (3, "3", (1, 1)), (3, "0 ", (1, 3)), (3, " 0\n", (1, 1)), (3, "0 \n", (1, 3)),
+                (3, "", (1, 1)), (3, "0", (1, 2)), (3, "3", (1, 1)), (3, "0 ", (1, 3)), (3, " 0\n", (1, 1)),
+                (3, "0 \n", (1, 3)),
                 (3, "\n\n", (2, 1)), (3, "0\n0", (2, 1)), (13, "12", (1, 3)), (13, "13\n", (1, 2)), (13, "01", (1, 2)),
-                (10 ** 20, "123456789\n", None), (10 ** 20, "1234567890\n", (1, 10)), (0, "0", (1, 1)), (1, "0 0  ", (1, 5)),
+                (10 ** 20, "123456789\n", None), (10 ** 20, "1234567890\n", (1, 10)), (0, "0", (1, 1)),
+                (1, "0 0  ", (1, 5)),
                 (3, "0\u0661", (1, 2)), (3, "1\r\n", (1, 2))]:
             self.assertEqual(runs_text_fault(many, text), fault)
         self.no_strings(runs_text_fault, 3)
@@ -113,7 +115,8 @@ class MeaningTextTest(Texts):
         if ahead is None or len(words) > len(web):
             return text == ""
         choices = {"yes", "no", *figures_from(words[-1] or "7"), *(str(one) for one in ahead)}
-        return any(one.startswith(words[-1]) and self.plain(web[:len(words)], " ".join(words[:-1] + [one]) + "\n") is not None
+        return any(one.startswith(words[-1]) and self.plain(web[:len(words)],
+                                                            " ".join(words[:-1] + [one]) + "\n") is not None
                    for one in choices)
 
     def check(self, web, texts):
@@ -144,11 +147,14 @@ class MeaningTextTest(Texts):
     def test_edges(self):
         self.assertEqual((meaning_text([], []), read_meaning([], "\n")), ("\n", []))
         for web, text, fault in [
-                (WEB, "0 0 no 1", (1, 8)), (WEB, "0 1 no 1 2 3 2 2 yes 3", (1, 23)), (WEB, "0 1 no 1 2 3 2 2 yes 3 ", (1, 23)),
+                (WEB, "0 0 no 1", (1, 8)), (WEB, "0 1 no 1 2 3 2 2 yes 3", (1, 23)),
+                (WEB, "0 1 no 1 2 3 2 2 yes 3 ", (1, 23)),
                 (WEB, "0 1 no 1 2 3 2 2 yes 3\n\n", (2, 1)), (WEB, "0 1 maybe", (1, 5)), (WEB, "0 1 ye s", (1, 7)),
                 (WEB, "0 1 yes 1", (1, 9)), (WEB, "0 1 yes 0 2 2 2 2 no", (1, 19)), (WEB, "0 1\n", (1, 4)),
-                (WEB, "", (1, 1)), (WEB, "1234567890", (1, 10)), (WEB, "00", (1, 2)), (WEB, "yes", (1, 1)), ([], "", (1, 1)),
-                ([], "0", (1, 1)), ([], "\n\n", (2, 1)), ([("given", 0)], "0 \n", (1, 2)), ([("given", 0)], "\n", (1, 1)),
+                (WEB, "", (1, 1)), (WEB, "1234567890", (1, 10)), (WEB, "00", (1, 2)), (WEB, "yes", (1, 1)),
+                ([], "", (1, 1)),
+                ([], "0", (1, 1)), ([], "\n\n", (2, 1)), ([("given", 0)], "0 \n", (1, 2)),
+                ([("given", 0)], "\n", (1, 1)),
                 (WEB, "10 2 no 1\n", (1, 9)), (WEB, "2 10 no 1\n", (1, 10)), (WEB, "2 10 no 1 ", (1, 10))]:
             self.assertEqual(meaning_text_fault(web, text), fault, text)
         self.no_strings(meaning_text_fault, WEB)
@@ -157,7 +163,8 @@ class MeaningTextTest(Texts):
         for function in (meaning_text, read_meaning, meaning_text_fault):
             with self.assertRaises(BadWeb):
                 function([("made", "f", (0,))], None)
-        for meaning in (None, [], [0, 0, False, 1], [0, 1, 0, 1, 2, 3, 2, 2, True, 3], "0", [0, 1, False, 1, 2, 3, 2, 2, True, 3, 4]):
+        for meaning in (None, [], [0, 0, False, 1], [0, 1, 0, 1, 2, 3, 2, 2, True, 3], "0",
+                        [0, 1, False, 1, 2, 3, 2, 2, True, 3, 4]):
             with self.assertRaises(BadMeaning) as caught:
                 meaning_text(WEB, meaning)
             self.assertIs(caught.exception.meaning, meaning)
@@ -245,10 +252,13 @@ class CaseTextTest(Texts):
         text = "asked 10\n. asked 1\n.. like\n.. asked 14\n... like\n... like\n. like\n"
         self.assertEqual(cases_text(web, 0, 0, tree), text)
         self.assertEqual(read_cases(web, 0, 0, text), tree)
-        for text, fault in [("asked 1", (1, 8)), ("asked 12", (1, 8)), ("asked 13", (1, 8)), ("asked 10\n. asked 13\n", None),
+        for text, fault in [("asked 1", (1, 8)), ("asked 12", (1, 8)), ("asked 13", (1, 8)),
+                            ("asked 10\n. asked 13\n", None),
                             ("asked 10\n. asked 10\n", (2, 10)), ("asked 2", (1, 7)), ("asked 10\nlike", (2, 1)),
-                            ("asked 10\n.. like", (2, 2)), ("asked 10\n.like", (2, 2)), ("asked 01", (1, 7)), ("asked  1", (1, 7)),
-                            ("asked\n", (1, 6)), ("like \n", (1, 5)), ("like\nlike\n", (2, 1)), ("like", (1, 5)), ("", (1, 1)),
+                            ("asked 10\n.. like", (2, 2)), ("asked 10\n.like", (2, 2)), ("asked 01", (1, 7)),
+                            ("asked  1", (1, 7)),
+                            ("asked\n", (1, 6)), ("like \n", (1, 5)), ("like\nlike\n", (2, 1)), ("like", (1, 5)),
+                            ("", (1, 1)),
                             (" like", (1, 1)), ("asked 1 \n", (1, 8)), ("asked 1\n. like\n.  like", (3, 3))]:
             told = cases_text_fault(web, 0, 0, text)
             self.assertEqual(told, fault or (text.count("\n") + 1, 1), text)
@@ -267,7 +277,8 @@ class CaseTextTest(Texts):
             for one, other in ((2, 0), (0, 8), (10, 0), (0, True), (None, None)):
                 with self.assertRaises(BadPart):
                     function(WEB, one, other, None)
-        for tree in (None, ("like",), ("asked", 2), ("asked", 0, ("like",), ("like",)), "like", ["asked", 8, ["like"], ["like"]]):
+        for tree in (None, ("like",), ("asked", 2), ("asked", 0, ("like",), ("like",)), "like",
+                     ["asked", 8, ["like"], ["like"]]):
             with self.assertRaises(BadTree) as caught:
                 cases_text(WEB, 4, 7, tree)
             self.assertIs(caught.exception.tree, tree)
@@ -315,7 +326,8 @@ class ViewTextTest(Texts):
     def some_views(self, seed):
         rng = maker(seed)
         names = ["a", "ab", "abc", "b", "b1", "bz", "zzzzzzzz", "zzzzzzzy", "x", "x0"]
-        return [[(name, rng.choice([-1, -1, 0, 3, 10, 123456789])) for name in sorted(rng.sample(names, rng.randint(0, 3)))]
+        return [[(name, rng.choice([-1, -1, 0, 3, 10, 123456789])) for name in sorted(rng.sample(names,
+                                                                                                 rng.randint(0, 3)))]
                 for _ in range(rng.randint(0, 3))]
 
     def test_there_and_back(self):
@@ -334,10 +346,12 @@ class ViewTextTest(Texts):
         self.assertGreater(min(met.values()), 150)
 
     def test_edges(self):
-        self.assertEqual((views_text([]), read_views(""), views_text([[]]), read_views("\n\n")), ("", [], "\n", [[], []]))
+        self.assertEqual((views_text([]), read_views(""), views_text([[]]), read_views("\n\n")),
+                         ("", [], "\n", [[], []]))
         for text, fault in [
                 ("x", (1, 2)), ("x=", (1, 3)), ("x=*", (1, 4)), ("x=*\n", None), ("x=* ", (1, 5)), ("x=* \n", (1, 5)),
-                ("x=*0", (1, 4)), ("x=0*", (1, 4)), ("x=**", (1, 4)), ("x=-1", (1, 3)), ("x=01", (1, 4)), ("=", (1, 1)), (" ", (1, 1)),
+                ("x=*0", (1, 4)), ("x=0*", (1, 4)), ("x=**", (1, 4)), ("x=-1", (1, 3)), ("x=01", (1, 4)),
+                ("=", (1, 1)), (" ", (1, 1)),
                 ("x=0  y=0", (1, 5)), ("x y", (1, 2)), ("x==0", (1, 3)), ("x=1234567890", (1, 12)), ("x=0 x=0", (1, 6)),
                 ("x=0 w", (1, 5)), ("xz=0 x0", (1, 7)), ("zzzzzzzz=* ", (1, 11)), ("zzzzzzzz=*\na=0\n", None),
                 ("x=0\n x=0", (2, 1)), ("x=0 y\n", (1, 6)), ("x=\n", (1, 3)), ("abcdefghi", (1, 9)), ("X=0", (1, 1)),
@@ -346,9 +360,12 @@ class ViewTextTest(Texts):
         self.no_strings(views_text_fault)
 
     def test_forms(self):
-        for views, index in ((None, 0), ("", 0), ({}, 0), ([None], 0), ([[], "x"], 1), ([[("x", -2)]], 0), ([[("x", True)]], 0),
-                             ([[("x", 0), ("x", 0)]], 0), ([[], [("y", 0), ("x", 0)]], 1), ([[("X", 0)]], 0), ([[("x",)]], 0),
-                             ([[("x", 0, 0)]], 0), ([[("x", None)]], 0), ([[("x", "0")]], 0), ([["x0"]], 0), ([[], [], 5, None], 2),
+        for views, index in ((None, 0), ("", 0), ({}, 0), ([None], 0), ([[], "x"], 1), ([[("x", -2)]], 0),
+                             ([[("x", True)]], 0),
+                             ([[("x", 0), ("x", 0)]], 0), ([[], [("y", 0), ("x", 0)]], 1), ([[("X", 0)]], 0),
+                             ([[("x",)]], 0),
+                             ([[("x", 0, 0)]], 0), ([[5]], 0), ([[], [None]], 1), ([[("x", None)]], 0),
+                             ([[("x", "0")]], 0), ([["x0"]], 0), ([[], [], 5, None], 2),
                              ([[(Strange(), 0)]], 0), ([[("x", Strange())]], 0)):
             with self.assertRaises(BadViewsForm) as caught:
                 views_text(views)
@@ -384,7 +401,8 @@ class AllByTextTest(unittest.TestCase):
         text = views_text(views)
         self.assertEqual(read_views(text), views)
         again = read_web(web_text(web))
-        self.assertIs(is_never(page, again, read_stand(again, stand), read_stand(again, wished), read_views(text)), True)
+        self.assertIs(is_never(page, again, read_stand(again, stand), read_stand(again, wished), read_views(text)),
+                      True)
 
 
 if __name__ == "__main__":

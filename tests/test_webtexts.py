@@ -47,7 +47,8 @@ def all_lines(rows, line):
         head = "".join(" " + one for one in words[2:-1])
         for step in steps or ["a"]:
             for end in ends:
-                for more in ["", *(" " + one for one in parts), *(" " + one + " " + other for one in parts for other in parts)]:
+                for more in ["", *(" " + one for one in parts),
+                             *(" " + one + " " + other for one in parts for other in parts)]:
                     yield word + " " + step + head + end + more
     for number in figures_from(words[1] if len(words) > 1 else "0", 100):
         yield "given " + number
@@ -91,8 +92,10 @@ class WebTextTest(unittest.TestCase):
     def test_small_texts(self):
         """All beginnings of small webs' texts, with each sign behind."""
         webs = [[("made", "f", ()), ("made", "g", (0, 0)), ("asked", "t", (1,)), ("either", 2, 1, 0)],
-                [("asked", "t", ()), ("asked", "t2", ()), ("given", 10), ("given", 1), ("either", 0, 3, 2), ("either", 1, 3, 2)],
-                [("given", 0), ("asked", "a", (0,)), ("made", "abcdefgh", ()), ("either", 1, 0, 2), ("either", 1, 0, 3)],
+                [("asked", "t", ()), ("asked", "t2", ()), ("given", 10), ("given", 1), ("either", 0, 3, 2),
+                 ("either", 1, 3, 2)],
+                [("given", 0), ("asked", "a", (0,)), ("made", "abcdefgh", ()), ("either", 1, 0, 2),
+                 ("either", 1, 0, 3)],
                 [("made", "made", ()), ("asked", "asked", (0,)), ("given", 5), ("given", 123456789)]]
         met = self.check(all_next_signs([web_text(web) for web in webs], SIGNS))
         self.assertGreater(min(met.values()), 15)
@@ -108,10 +111,22 @@ class WebTextTest(unittest.TestCase):
             "either 1 0 0", "either 2 0 0", "made g 1\n", "made g 1 ", "made g 12 1\n", "made g 15", "made g 14\n",
             "asked t\n", "asked t \n", "asked t 1\n", "asked u 10\n", "asked u 10 10\n", "either 1\n", "either 1 0\n",
             "either 10 ", "either 12", "either 2 10 10", "either 2 10 1\n", "either 2 10 1 ", "made g 0 0 0 0 0 0\n",
-            "made g 01", "made g  0", "made g 0 \n", "made  g", "made \n", "made\n", "given \n", "given 01", "given 1 ")])
+            "made g 01", "made g  0", "made g 0 \n", "made  g", "made \n", "made\n", "given \n", "given 01",
+            "given 1 ")])
+
+    def test_one_side_twice(self):
+        """The other side is the one side's index so far, but might go on to another one."""
+        web = [("given", at) for at in range(10)] + [("asked", "t", ()), ("made", "f", ()), ("made", "g", ())]
+        text = web_text(web)
+        self.check([text + more for more in ("either 10 1 1\n", "either 10 1 1", "either 10 1 11\n", "either 10 1 12",
+                                             "either 10 11 1\n", "either 10 11 11", "either 10 2 2", "either 1\n",
+                                             "either 10 1 11\neither 10 1 1", "either 10 1 11\neither 10 1 11",
+                                             "either 10 1 11\neither 10 1 12\neither 10 1 13\neither 10 1 1",
+                                             "either 10 1 2\neither 10 1 2", "made f 10\n", "made f 13", "made f 1\n")])
 
     def test_changed_texts(self):
-        texts = [one_changed(web_text(a_web(seed % 60, rows=3 + seed % 10, givens=12)), seed, SIGNS) for seed in range(700)]
+        texts = [one_changed(web_text(a_web(seed % 60, rows=3 + seed % 10, givens=12)), seed,
+                             SIGNS) for seed in range(700)]
         met = self.check(texts)
         self.assertGreater(min(met.values()), 40)
 
@@ -120,12 +135,15 @@ class WebTextTest(unittest.TestCase):
                 ("made f\nmade f\n", (2, 7)), ("made f\nmade f", (2, 7)), ("asked t\nasked t\n", (2, 8)),
                 ("asked abcdefgh\nasked abcdefgh", (2, 14)), ("asked abcdefgh\nasked abcdefg", (2, 14)),
                 ("asked abcdefgh\nasked abcdefg\nasked abcdefg\n", (3, 14)),
-                ("given 0\nasked abcdefgh\nasked abcdefgh\n", (3, 15)), ("given 0\nmade abcdefgh\nmade abcdefgh ", (3, 15)),
+                ("given 0\nasked abcdefgh\nasked abcdefgh\n", (3, 15)),
+                ("given 0\nmade abcdefgh\nmade abcdefgh ", (3, 15)),
                 ("given 0\ngiven 0", (2, 7)), ("given 5\ngiven 5\n", (2, 8)), ("given 5\ngiven 5", (2, 8)),
-                ("given 123456789\ngiven 123456789", (2, 15)), ("given 12345678\ngiven 123456780\ngiven 12345678\n", (3, 15)),
+                ("given 123456789\ngiven 123456789", (2, 15)),
+                ("given 12345678\ngiven 123456780\ngiven 12345678\n", (3, 15)),
                 ("given 1234567890", (1, 16)), ("made f\nmade g\nasked t\neither 2 0 1\neither 2 0 1", (5, 12)),
                 ("made f\nmade g\nasked t\neither 2 0 1\neither 2 0 3\n", None),
-                ("made f\nasked t\neither", (3, 1)), ("made f\ngiven 3\neither", (3, 1)), ("asked t\nasked s\neither", (3, 1)),
+                ("made f\nasked t\neither", (3, 1)), ("made f\ngiven 3\neither", (3, 1)),
+                ("asked t\nasked s\neither", (3, 1)),
                 ("asked t 0", (1, 8)), ("asked t\nmade f 0", (2, 7)), ("made f\nmade f 0 0\nmade f 0 0\n", (3, 11))]:
             self.assertEqual(web_text_fault(text), fault, text)
             self.assertEqual(plain_fault(text, begins_web, lambda one: plain_web(one) is not None), fault, text)
@@ -151,7 +169,8 @@ class WebTextTest(unittest.TestCase):
             if not isinstance(thing, str):
                 self.assertEqual(web_text_fault(thing), (0, 0))
         for text, fault in [("made f", (1, 7)), ("\n", (1, 1)), ("made f\n\n", (2, 1)), ("made  f", (1, 6)),
-                            ("made f\r\n", (1, 7)), ("made \u00e4\n", (1, 6)), ("made f \n", (1, 7)), (" made f", (1, 1)),
+                            ("made f\r\n", (1, 7)), ("made \u00e4\n", (1, 6)), ("made f \n", (1, 7)),
+                            (" made f", (1, 1)),
                             ("made f\nmade g 0 \n", (2, 10)), ("made F\n", (1, 6)), ("Made", (1, 1)), ("made", (1, 5)),
                             ("asked t\nmade f\nmade g 0", (3, 8)), ("made f\nasked t 0\nmade g 1\n", (3, 8))]:
             self.assertEqual(web_text_fault(text), fault, text)
@@ -203,7 +222,8 @@ class StandTextTest(unittest.TestCase):
 
     def some_stand(self, seed):
         rng = maker(seed)
-        names = rng.sample(["a", "ab", "abc", "b", "b1", "bz", "zzzzzzzz", "zzzzzzzy", "x", "x0", "a0"], rng.randint(0, 4))
+        names = rng.sample(["a", "ab", "abc", "b", "b1", "bz", "zzzzzzzz", "zzzzzzzy", "x", "x0", "a0"],
+                           rng.randint(0, 4))
         return {name: int(rng.choice(PARTS)) for name in names}
 
     def test_there_and_back(self):

@@ -123,7 +123,8 @@ class WideLotTest(unittest.TestCase):
                       lot + [[("b", 0)]], lot + [None], [{}, {"b": 1, "f": 0}], lot + [{"b": Strange()}]):
             self.assertIs(is_wide_lot(page, thing), False)
         # Lots with more may be closed; an untrue one that no row leads to is none.
-        other = WidePage([[step("a", "f"), step("a", "g", "a")], [step("b", "h")], [step("c", "k", "b")], [step("b", "h")]])
+        other = WidePage([[step("a", "f"), step("a", "g", "a")], [step("b", "h")], [step("c", "k", "b")],
+                          [step("b", "h")]])
         self.assertEqual(wide_lot(other)[0], "closed")
         for thing in strange_things():
             self.assertIs(type(is_wide_lot(page, thing)), bool)
@@ -163,7 +164,8 @@ class LookedUpTest(unittest.TestCase):
 
     def test_edges(self):
         cells = [[step("a", "f"), ("tell", "g", ["p"], [("call", "q", "h", ["p", "b"])], "q")],
-                 [step("b", "f"), ("tell", "h", ["p", "r"], [step("c", "k", "p", "a")], "c"), ("call", "x", "g", ["b"])],
+                 [step("b", "f"), ("tell", "h", ["p", "r"], [step("c", "k", "p", "a")], "c"),
+                  ("call", "x", "g", ["b"])],
                  [step("a", "k"), ("call", "x", "g", ["a"]), ("copy", "g", "h"), ("copy", "g", "g"), ("show", "x")], []]
         page = WidePage(cells)
         self.assertEqual([looked_up(page, place) for place in range(4)], [[], ["a", "g"], ["b", "g", "h"], []])

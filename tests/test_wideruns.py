@@ -40,13 +40,16 @@ class WidePageTest(unittest.TestCase):
         for cell in ([], [TELL], [("call", "x", "g", ["a", "a"])], (("show", "x"),), [["tell", "g", (), (), "x"]],
                      [("tell", "tell", ["call"], [("copy", "call", "set")], "show"), ("set", "x", "f", [])]):
             self.assertIs(is_wide_cell(cell), True)
-        for cell in ("", "tell", None, {}, [None], [()], [("tell", "g", ["p", "p"], [], "p")], [("tell", "G", [], [], "p")],
+        for cell in ("", "tell", None, {}, [None], [()], [("tell", "g", ["p", "p"], [], "p")],
+                     [("tell", "G", [], [], "p")],
                      [("tell", "g", [], [])], [("tell", "g", "p", [], "p")], [("tell", "g", [], "", "p")],
                      [("tell", "g", [], [("show", "a")], "p")], [("tell", "g", [], [("if", "t", [], [], [])], "p")],
                      [("tell", "g", [], [TELL], "p")], [("tell", "g", [], [], "")], [("tell", "g", [], [], ["p"])],
                      [("tell", "g", [1], [], "p")], [("call", "x", "g")], [("call", "x", "g", "ab")],
-                     [("call", "x", 1, [])], [("call", "x", "g", [1])], [("if", "t", [], [], [])], [("call", "x", "g", [], 0)],
-                     [("change", "x", "f", [])], [TELL, ("set", "x", "f")], [("tell", "g", [], [("set", "q", "f")], "q")]):
+                     [("call", "x", 1, [])], [("call", "x", "g", [1])], [("if", "t", [], [], [])],
+                     [("call", "x", "g", [], 0)],
+                     [("change", "x", "f", [])], [TELL, ("set", "x", "f")],
+                     [("tell", "g", [], [("set", "q", "f")], "q")]):
             self.assertIs(is_wide_cell(cell), False)
         for thing in strange_things():
             self.assertIs(type(is_wide_cell(thing)), bool)
@@ -153,7 +156,8 @@ class WideRunTest(unittest.TestCase):
         twice = (["r"], [step("s", "f", "r", "r")], "s")
         stand = {"a": 0, "g": apply, "h": twice}
         self.assertEqual(self.runs_to(stand, ("call", "x", "g", ["h"])), ("f", (("h", ()), ("h", ()))))
-        self.assertEqual(self.runs_to(stand, ("copy", "k", "h"), ("call", "x", "k", ["a"])), ("f", (("h", ()), ("h", ()))))
+        self.assertEqual(self.runs_to(stand, ("copy", "k", "h"), ("call", "x", "k", ["a"])),
+                         ("f", (("h", ()), ("h", ()))))
         self.assertEqual(self.runs_to(stand, ("copy", "x", "h")), as_tuples(twice))
         # A function that comes to a function.
         self.assertEqual(self.runs_to({**stand, "k": ([], [], "h")}, ("call", "x", "k", []), ("call", "x", "x", ["a"])),

@@ -174,7 +174,8 @@ class WideMaker:
         if dice < 0.6:
             return ("show", self.value())
         if dice < 0.7:
-            return ("copy", self.rng.choice(self.values + self.functions), self.rng.choice(self.values + self.functions))
+            return ("copy", self.rng.choice(self.values + self.functions),
+                    self.rng.choice(self.values + self.functions))
         return ("set", self.value(), self.rng.choice(self.steps), self.some(1))
 
     def cell(self, many):
