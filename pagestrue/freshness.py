@@ -12,8 +12,8 @@ class RunsBehind:
         runs = [place for row in rows for place in row]
         self.look = MendLook(forms, ())
         told, stand = run_row(self.look.table, {}, forms, runs)
-        self.last_told = last_told(len(forms), told, runs)
-        self.state = self.look.state_of(stand, self.last_told)
+        self.told_last = last_told(len(forms), told, runs)
+        self.state = self.look.state_of(stand, self.told_last)
 
 
 def judged_behind(page, runs):
@@ -32,13 +32,13 @@ def mark_of(told, is_fresh):
 def marks(page, runs):
     """For each cell "none", "fresh" or "stale"."""
     behind = judged_behind(page, runs)
-    return [mark_of(told, is_fresh) for told, is_fresh in zip(behind.last_told, behind.state[1])]
+    return [mark_of(told, is_fresh) for told, is_fresh in zip(behind.told_last, behind.state[1])]
 
 
 def stale_at(page, runs):
     """None if no cell is stale, else the first one that is, and in what."""
     behind = judged_behind(page, runs)
-    for place, told in enumerate(behind.last_told):
+    for place, told in enumerate(behind.told_last):
         if told is not None and not behind.state[1][place]:
             word, what = behind.look.stale_thing(place, told)
             return (place, "shows" if word == "shown" else "leaves", what)

@@ -42,9 +42,9 @@ class MendLook:
             return False
         return self.stale_thing(place, told) is None
 
-    def state_of(self, stand, last_told):
+    def state_of(self, stand, told_last):
         """The state in which this stands and this was told last."""
-        fresh = [self.is_fresh(place, told) for place, told in enumerate(last_told)]
+        fresh = [self.is_fresh(place, told) for place, told in enumerate(told_last)]
         return (tuple([self.seen_part(stand.get(name)) for name in self.names]), tuple(fresh))
 
     def seen_part(self, part):
